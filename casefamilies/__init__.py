@@ -1,0 +1,1 @@
+"""Casefamilies: inductive families, functions by cases, and papers for both."""

@@ -1,0 +1,80 @@
+"""The form of the files of the package: sizes, imports, and where the interface is defined."""
+
+import ast
+import os
+import unittest
+
+ROOT = os.path.dirname(os.path.dirname(os.path.abspath(__file__)))
+PACKAGE = os.path.join(ROOT, "casefamilies")
+
+INTERFACE = {
+    "errors": "FamilyError BadText Unknown NoProfile NotThere BadCode BadProgram BadMaker BadFunction BadQuestion "
+              "InUse Taken Full NothingToUndo",
+    "terms": "is_word is_constructors is_term is_closed_term is_linear size height count_closed_terms variables "
+             "substituted shifted composed tidied closed_terms write_term read_term",
+    "unify": "unifier match meet join same_up_to_names",
+    "signatures": "is_signature is_goal maker_of makers_of fitting families_below goal_variables tidied_goal after",
+}
+
+
+def text_of(name):
+    with open(os.path.join(PACKAGE, name), encoding="utf-8") as file:
+        return file.read()
+
+
+class Form(unittest.TestCase):
+    def setUp(self):
+        self.files = sorted(name for name in os.listdir(PACKAGE) if name != "__pycache__")
+        self.trees = {name: ast.parse(text_of(name)) for name in self.files}
+
+    def test_the_folder_contains_python_files_alone(self):
+        self.assertTrue(all(name.endswith(".py") for name in self.files), self.files)
+        self.assertIn("__init__.py", self.files)
+
+    def test_sizes_and_signs(self):
+        for name in self.files:
+            lines = text_of(name).split("\n")
+            self.assertLessEqual(len(lines), 399, name)
+            self.assertLessEqual(max(len(line) for line in lines), 120, name)
+            self.assertTrue(all(" " <= sign <= "~" or sign == "\n" for sign in text_of(name)), name)
+            for node in ast.walk(self.trees[name]):
+                if isinstance(node, ast.FunctionDef):
+                    self.assertLessEqual(node.end_lineno - node.lineno + 1, 40, (name, node.name))
+                    self.assertIsNotNone(ast.get_docstring(node) or node.name.startswith("__"), (name, node.name))
+
+    def test_interface_is_defined_where_it_is_listed(self):
+        for module, names in INTERFACE.items():
+            body = self.trees[module + ".py"].body
+            defined = [node.name for node in body if isinstance(node, (ast.FunctionDef, ast.ClassDef))]
+            for name in names.split():
+                self.assertEqual(defined.count(name), 1, (module, name))
+
+    def test_imports_are_of_the_package_and_of_what_is_defined_there(self):
+        for name, tree in self.trees.items():
+            for node in ast.walk(tree):
+                self.assertNotIsInstance(node, ast.Import, name)
+                if isinstance(node, ast.ImportFrom):
+                    package, module = node.module.split(".")
+                    self.assertEqual((package, node.level), ("casefamilies", 0))
+                    defined = [part.name for part in self.trees[module + ".py"].body if hasattr(part, "name")]
+                    for alias in node.names:
+                        self.assertIsNone(alias.asname)
+                        self.assertIn(alias.name, defined, name)
+                        self.assertIn(alias.name, names_read(tree), (name, "is not used"))
+
+    def test_no_two_files_import_from_each_other(self):
+        below = {name: [node.module.split(".")[1] + ".py" for node in tree.body if isinstance(node, ast.ImportFrom)]
+                 for name, tree in self.trees.items()}
+        done = []
+        while len(done) < len(below):
+            ready = [name for name in below if name not in done and all(part in done for part in below[name])]
+            self.assertTrue(ready, "files import from each other")
+            done.extend(ready)
+
+
+def names_read(tree):
+    return {node.id for node in ast.walk(tree) if isinstance(node, ast.Name)}
+
+
+if __name__ == "__main__":
+    unittest.main()
