@@ -198,3 +198,85 @@ def without_holes(template):
     if type(template[0]) is int:
         return (f"{template[0]}{template[1]}",)
     return (template[0],) + tuple([without_holes(part) for part in template[1:]])
+
+
+def is_plain_template(signature, family, many, value):
+    """Return True if any value is a template of a family, by the words of point 5.1, or a value."""
+    if type(value) is not tuple or not value:
+        return False
+    if type(value[0]) is int:
+        return len(value) == 2 and 0 <= value[0] < many and same(value[1], family)
+    fitting = [maker for maker in signature[2] if same(maker[0], value[0]) and maker[1] == family]
+    if not fitting or len(fitting[0][3]) != len(value) - 1:
+        return False
+    rows = zip(fitting[0][3], value[1:])
+    return all(is_plain_template(signature, argument[0], many, part) for argument, part in rows)
+
+
+def holes_of(template):
+    if type(template[0]) is int:
+        return [template]
+    return [hole for part in template[1:] for hole in holes_of(part)]
+
+
+def is_right_rule(signature, value, derivation):
+    """Return True if any value is a right rule, by the words of point 5.2.
+
+    The new constants become constructors, and each hole a maker with one of them as its index;
+    a derivation over the longer signature then shows that the rule is right.
+    """
+    if type(value) is not tuple or len(value) != 3:
+        return False
+    family, word, template = value
+    arities = dict(signature[0])
+    if type(family) is not str or family not in signature[1] or type(word) is not str or word not in arities:
+        return False
+    if not is_plain_template(signature, family, arities[word], template) or type(template[0]) is int:
+        return False
+    longer = with_holes(signature, arities[word])
+    index = (word,) + tuple([(pair[0],) for pair in longer[0][len(signature[0]):]])
+    shown = without_holes(template)
+    found = derivation(longer, shown, index)
+    return found is not None and is_right_derivation(longer, shown, index, found)
+
+
+def plain_needs(signature, rule):
+    holes = holes_of(rule[2])
+    arity = dict(signature[0])[rule[1]]
+    return tuple(tuple(sorted({family for i, family in holes if i == k})) for k in range(arity))
+
+
+def is_right_paper(signature, value, derivation):
+    """Return True if any value is a right profile paper, by the words of point 6.2."""
+    if type(value) is not tuple:
+        return False
+    arities = dict(signature[0])
+    table = {}
+    for row in value:
+        if type(row) is not tuple or len(row) != 4 or type(row[0]) is not str or row[0] not in arities:
+            return False
+        word, parts, profile, templates = row
+        if type(parts) is not tuple or len(parts) != arities[word] or type(templates) is not tuple:
+            return False
+        if not all(is_ascending(signature, part) for part in parts + (profile,)):
+            return False
+        if not all(part in table.values() for part in parts) or (word, parts) in table:
+            return False
+        if len(templates) != len(profile):
+            return False
+        for family, template in zip(profile, templates):
+            rule = (family, word, template)
+            if not is_right_rule(signature, rule, derivation):
+                return False
+            if not all(set(lesser) <= set(part) for lesser, part in zip(plain_needs(signature, rule), parts)):
+                return False
+        table[(word, parts)] = profile
+    states = sorted(set(table.values()))
+    asked = [(word, parts) for word, arity in signature[0] for parts in itertools.product(states, repeat=arity)]
+    return set(asked) == set(table) and is_model(signature, table, states)
+
+
+def is_ascending(signature, value):
+    if type(value) is not tuple or not all(type(family) is str and family in signature[1] for family in value):
+        return False
+    return list(value) == sorted(set(value))

@@ -50,11 +50,20 @@ REGISTER = ((("z", 0), ("s", 1), ("t", 1), ("p", 2)), STEPS, (
     ("tc", "fc", ("t", 0), (("fb", 0),)),
     ("sd", "fd", ("s", 0), (("fc", 0),)),
     ("td", "fd", ("t", 0), (("fc", 0),)),
-    ("pd", "fd", ("p", 0, 1), (("fa", 0), ("fc", ("s", 1)), ("fb", ("p", 2, ("t", 1)))))))
+    ("pd", "fd", ("p", 0, 1), (("fa", 0), ("fc", ("s", 1)), ("fb", ("t", 2))))))
+
+# Index sets with no, one and two terms, and with all terms but one.
+COUNTED = (NUMBERS, ("no", "one", "two", "great"), (
+    ("low", "two", ("zero",), ()),
+    ("start", "one", ("zero",), ()),
+    ("next", "two", ("succ", 0), (("one", 0),)),
+    ("third", "great", ("succ", 0), (("two", 0), ("two", 1))),
+    ("higher", "great", ("succ", 0), (("great", 0),)),
+    ("turn", "no", 0, (("no", ("succ", 0)),))))
 
 EMPTY = ((("zero", 0),), ("none",), ())
 
-NAMED = [V, EXPR, PARITY, FORMS, DOWN, REGISTER, EMPTY]
+NAMED = [V, EXPR, PARITY, FORMS, DOWN, COUNTED, REGISTER, EMPTY]
 
 
 def number(n):

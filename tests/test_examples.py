@@ -33,6 +33,34 @@ True
 >>> after(V, (("vec", ("succ", 3)), ("fin", 3)), "cons")
 (('fin', ('succ', 0)), ('vec', 1), ('fin', 1))
 """,
+    "values": """
+>>> from casefamilies.values import fault_place, general_index
+>>> general_index(V, ("more", ("first",)))
+('succ', ('succ', 0))
+>>> general_index(V, ("cons", ("more", ("first",)), ("nil",)))
+('succ', ('zero',))
+""",
+    "rules": """
+>>> from casefamilies.rules import check_rule, needs, value_at
+>>> check_rule(V, ("vec", "succ", ("cons", ("first",), (0, "vec"))))
+True
+>>> needs(V, ("vec", "succ", ("cons", ("first",), (0, "vec"))))
+(('vec',),)
+>>> value_at(V, "fin", ("zero",)) is None
+True
+""",
+    "profiles and indexsets": """
+>>> from casefamilies.profiles import profile, profiles
+>>> profiles(V)
+[('fin', 'vec'), ('vec',)]
+>>> profile(V, ("zero",))
+('vec',)
+>>> from casefamilies.indexsets import first_difference, is_part
+>>> is_part(V, "fin", "vec")
+True
+>>> first_difference(V, "fin", V, "vec")
+('zero',)
+""",
 }
 
 

@@ -14,6 +14,10 @@ INTERFACE = {
              "substituted shifted composed tidied closed_terms write_term read_term",
     "unify": "unifier match meet join same_up_to_names",
     "signatures": "is_signature is_goal maker_of makers_of fitting families_below goal_variables tidied_goal after",
+    "values": "is_value has_index check_derivation family_of weight depth part_at general_index derivation fault_place",
+    "rules": "check_rule is_complete filled needs rules value_at",
+    "profiles": "profile profiles profile_after profile_paper check_profiles",
+    "indexsets": "indices_of count_indices count_likenesses least_index first_difference is_finite is_part",
 }
 
 
