@@ -5,7 +5,7 @@ and holes its template has, without writing it out: most plans are not used in t
 """
 
 from casefamilies.signatures import maker_variables
-from casefamilies.states import States, breaches, is_within
+from casefamilies.states import States, breaches
 from casefamilies.terms import substituted
 
 
@@ -146,7 +146,7 @@ class Kitchen:
                     changed = True
 
     def offers(self):
-        """Return recipes for what makers make beyond the states, the cheapest ones among them."""
+        """Return recipes for what makers make beyond the states, the cheapest one among them."""
         masks = self.states.masks
         further = [mask for mask in masks if not self.is_needless(mask)]
         found = []
@@ -154,7 +154,7 @@ class Kitchen:
             own = len(maker[2]) - 1
             pools = [masks] * own + [further] * (len(maker_variables(maker)) - own)
             rows = breaches(maker, pools, self.states.table, self.states.members)
-            found.extend([self.offer(maker, own, given) for given in widest(rows, own)])
+            found.extend([self.offer(maker, own, given) for given in rows])
         return found
 
     def is_needless(self, mask):
@@ -202,13 +202,3 @@ class Kitchen:
 def total(ways):
     """Return the cost of all ways."""
     return sum([way.cost for way in ways.values()])
-
-
-def widest(rows, own):
-    """Return those choices of states that have the most families at the first places."""
-    kept = []
-    # A state with more families is a greater number, so the sum goes down.
-    for given in sorted(rows, key=sum, reverse=True):
-        if not any([row[own:] == given[own:] and is_within(given, row) for row in kept]):
-            kept.append(given)
-    return kept

@@ -51,7 +51,7 @@ class Classes:
             here, there = self.shapes[one], self.shapes[two]
             self.tie(one, two)
             if here is not None and there is not None:
-                if here[0] != there[0] or len(here) != len(there):
+                if here[0] != there[0]:
                     return False
                 waiting.extend(list(zip(here[1:], there[1:])))
         return True
@@ -104,7 +104,7 @@ def match(p, t):
         if type(one) is int:
             if found.setdefault(one, two) != two:
                 return None
-        elif type(two) is int or one[0] != two[0] or len(one) != len(two):
+        elif type(two) is int or one[0] != two[0]:
             return None
         else:
             waiting.extend(list(zip(one[1:], two[1:])))

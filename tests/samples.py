@@ -179,6 +179,26 @@ def structure_mutants(paper):
     return [mutant for mutant in found if not same(mutant, paper)]
 
 
+class Agreeable:
+    """A thing of no form at all that says that it is equal to everything."""
+
+    def __eq__(self, other):
+        return True
+
+    def __hash__(self):
+        return 0
+
+
+def agreeable_mutants(paper):
+    """Return papers with a thing in the place of an item, at any depth, that claims to be equal to it."""
+    found = []
+    for k, item in enumerate(paper):
+        found.append(paper[:k] + (Agreeable(),) + paper[k + 1:])
+        if type(item) is tuple:
+            found.extend([paper[:k] + (part,) + paper[k + 1:] for part in agreeable_mutants(item)])
+    return found
+
+
 def same(one, two):
     """Return True if two things are equal, and of the same kinds throughout."""
     if type(one) is not type(two):

@@ -24,7 +24,8 @@ class Lists(unittest.TestCase):
         self.assertEqual(indices_of(EXPR, "expr", 1), [("bool",), ("nat",)])
         self.assertEqual([len(indices_of(EXPR, "expr", n)) for n in (-1, 0, 2)], [0, 0, 0])
         self.assertEqual([count_indices(EXPR, "expr", n) for n in (-3, -1, 0, 2)], [0, 0, 0, 0])
-        self.assertEqual(indices_of(EXPR, "expr", 3), [("arrow", (a,), (b,)) for a in ("bool", "nat", "void") for b in ("bool", "nat")])
+        kinds = [("arrow", (a,), (b,)) for a in ("bool", "nat", "void") for b in ("bool", "nat")]
+        self.assertEqual(indices_of(EXPR, "expr", 3), kinds)
         self.assertEqual(indices_of(COUNTED, "no", 2), [])
 
     def test_lists_and_numbers(self):
@@ -84,11 +85,20 @@ class LeastIndices(unittest.TestCase):
     def test_texts_decide_between_terms_of_one_size(self):
         # ab comes before b, and b before the greater word ba, also within parentheses.
         words = (("b", 0), ("ab", 0), ("ba", 0), ("f", 2), ("e", 2))
-        odd = (words, ("p", "q"), (("m", "p", ("b",), ()), ("n", "p", ("ba",), ()), ("o", "q", ("f", 0, 1), (("p", 0), ("p", 1))),
+        odd = (words, ("p", "q"), (("m", "p", ("b",), ()), ("n", "p", ("ba",), ()),
+                                   ("o", "q", ("f", 0, 1), (("p", 0), ("p", 1))),
                                    ("r", "q", ("e", 0, 1), (("p", 1), ("p", 0)))))
         self.assertEqual(least_index(odd, ("q",)), ("e", ("b",), ("b",)))
         self.assertEqual(least_index(odd, ("p",)), ("b",))
         self.assertEqual(least_index(odd, ()), ("ab",))
+
+    def test_a_state_keeps_its_first_term(self):
+        # While the terms of u and v grow, there are greater ones of p in between.
+        words = (("a", 0), ("g", 1), ("h", 1), ("f", 2))
+        chain = (words, ("p", "r", "u", "v"), (
+            ("m", "p", ("a",), ()), ("n", "p", ("g", 0), (("p", 0),)), ("o", "u", ("h", 0), (("p", 0),)),
+            ("s", "v", ("h", 0), (("u", 0),)), ("t", "r", ("f", 0, 1), (("p", 0), ("v", 1)))))
+        self.assertEqual(least_index(chain, ("r",)), ("f", ("a",), ("h", ("h", ("a",)))))
 
 
 class Sizes(unittest.TestCase):
@@ -115,7 +125,8 @@ class Sizes(unittest.TestCase):
                 self.assertEqual(is_finite(signature, family), many == 0)
 
     def test_part(self):
-        for signature, first, second, wanted in [(V, "fin", "vec", True), (V, "vec", "fin", False), (V, "fin", "fin", True),
+        for signature, first, second, wanted in [(V, "fin", "vec", True), (V, "vec", "fin", False),
+                                                 (V, "fin", "fin", True),
                                                  (COUNTED, "no", "one", True), (COUNTED, "one", "two", True),
                                                  (COUNTED, "two", "great", False), (COUNTED, "two", "one", False),
                                                  (PARITY, "odd", "even", False), (PARITY, "never", "odd", True)]:
@@ -180,8 +191,10 @@ class Differences(unittest.TestCase):
 class Likenesses(unittest.TestCase):
     def test_known_ones(self):
         for signature, family, wanted in [(V, "fin", 2), (V, "vec", 1), (PARITY, "odd", 2), (PARITY, "never", 1),
-                                          (COUNTED, "no", 1), (COUNTED, "one", 2), (COUNTED, "two", 3), (COUNTED, "great", 2),
-                                          (EMPTY, "none", 1), (EXPR, "expr", 2), (REGISTER, "fa", 2), (DOWN, "mark", 2)]:
+                                          (COUNTED, "no", 1), (COUNTED, "one", 2), (COUNTED, "two", 3),
+                                          (COUNTED, "great", 2),
+                                          (EMPTY, "none", 1), (EXPR, "expr", 2), (REGISTER, "fa", 2),
+                                          (DOWN, "mark", 2)]:
             self.assertEqual(count_likenesses(signature, family), wanted, family)
         words = (REGISTER[0][:3], REGISTER[1], REGISTER[2][:7])
         self.assertEqual([count_likenesses(words, family) for family in STEPS], [2, 4, 8, 16])

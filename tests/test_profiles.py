@@ -9,8 +9,8 @@ from casefamilies.terms import closed_terms
 from casefamilies.values import derivation
 from reference import found_values, is_right_paper
 from samples import (
-    COUNTED, DOWN, EMPTY, EXPR, FORMS, NAMED, NUMBERS, ODDITIES, PARITY, REGISTER, STEPS, V, number, random_signature,
-    structure_mutants)
+    COUNTED, DOWN, EMPTY, EXPR, FORMS, NAMED, NUMBERS, ODDITIES, PARITY, REGISTER, STEPS, V, agreeable_mutants, number,
+    random_signature, structure_mutants)
 
 FIRST = ("first",)
 LONGER = ("cons", FIRST, (0, "vec"))
@@ -41,7 +41,8 @@ class Profiles(unittest.TestCase):
         self.assertEqual(profile(DOWN, ("succ", ("zero",))), ())
         self.assertEqual(profile(DOWN, ("stop", ("zero",))), ("down", "mark"))
         self.assertEqual(profile(DOWN, ("succ", ("stop", ("zero",)))), ("down", "mark"))
-        above = (NUMBERS, ("f", "g"), (("m", "f", 0, (("g", ("succ", ("succ", 0))),)), ("n", "g", ("succ", 0), (("f", 1),)),
+        above = (NUMBERS, ("f", "g"), (("m", "f", 0, (("g", ("succ", ("succ", 0))),)),
+                                       ("n", "g", ("succ", 0), (("f", 1),)),
                                        ("o", "f", ("zero",), ())))
         self.assertEqual(profiles(above), [("f",), ("f", "g")])
 
@@ -78,7 +79,8 @@ class Profiles(unittest.TestCase):
                 self.assertEqual(profile_after(signature, term[0], below), families)
 
     def test_no_profiles(self):
-        for parts in [[()], [("fin",)], [("vec", "fin")], [("none",)], [("fin", "vec", "vec")], [("vec\n",)], [None], [["vec"]]]:
+        for parts in [[()], [("fin",)], [("vec", "fin")], [("none",)], [("fin", "vec", "vec")], [("vec\n",)], [None],
+                      [["vec"]]]:
             with self.assertRaises(NoProfile, msg=parts):
                 profile_after(V, "succ", parts)
         for parts in [[("expr",), ("none",)], [("none",), ("expr",)], [(), ("expr", "expr")]]:
@@ -118,14 +120,19 @@ class Papers(unittest.TestCase):
     def test_wrong_papers(self):
         zero, one, two = PAPER
         wrong = [(), (zero,), (zero, one), (zero, two, one), (one, zero, two), (zero, one, two, two), (zero, one, one),
-                 (zero, zero, one, two), [zero, one, two], (zero, one, list(two)), PAPER[:2] + (two[:3],), PAPER + (None,),
+                 (zero, zero, one, two), [zero, one, two], (zero, one, list(two)), PAPER[:2] + (two[:3],),
+                 PAPER + (None,),
                  (("zero", (), (), ()), one, two), (("zero", (), ("fin", "vec"), (FIRST, ("nil",))), two),
-                 (zero, ("succ", (("vec",),), ("vec",), (LONGER,))), (zero, one[:2] + (("vec", "fin"), (LONGER, FIRST)), two),
-                 (zero, one, two[:3] + ((FIRST,),)), (zero, one, two[:3] + ((LONGER, FIRST),)), (zero, one, two[:3] + ([FIRST, LONGER],)),
-                 (zero, one[:3] + ((("more", (0, "fin")), LONGER),), two), (zero, one[:3] + ((FIRST, ("cons", (0, "fin"), (0, "vec"))),), two),
+                 (zero, ("succ", (("vec",),), ("vec",), (LONGER,))),
+                 (zero, one[:2] + (("vec", "fin"), (LONGER, FIRST)), two),
+                 (zero, one, two[:3] + ((FIRST,),)), (zero, one, two[:3] + ((LONGER, FIRST),)),
+                 (zero, one, two[:3] + ([FIRST, LONGER],)),
+                 (zero, one[:3] + ((("more", (0, "fin")), LONGER),), two),
+                 (zero, one[:3] + ((FIRST, ("cons", (0, "fin"), (0, "vec"))),), two),
                  (zero, ("succ", [("vec",)]) + one[2:], two), (zero, ("succ", (["vec"],)) + one[2:], two),
                  (zero, ("none",) + one[1:], two), ((0,) + zero[1:], one, two), ((["zero"],) + zero[1:], one, two),
-                 (("zero", (), ("vec",), (("nil",), ("nil",))), one, two), (("zero", (("vec",),), ("vec",), (("nil",),)), one, two),
+                 (("zero", (), ("vec",), (("nil",), ("nil",))), one, two),
+                 (("zero", (("vec",),), ("vec",), (("nil",),)), one, two),
                  (zero, one[:2] + (("fin", "fin", "vec"), (FIRST, FIRST, LONGER)), two), (zero, one, two + ()) + ((),),
                  (zero, one[:2] + (("fin", "vec", "wec"), (FIRST, LONGER, FIRST)), two)]
         for value in wrong + ODDITIES:
@@ -148,12 +155,17 @@ class Papers(unittest.TestCase):
                 wanted = is_right_paper(signature, mutant, derivation)
                 self.assertIs(check_profiles(signature, mutant), wanted, repr(mutant))
 
+    def test_things_that_claim_to_be_equal(self):
+        for mutant in agreeable_mutants(PAPER):
+            self.assertIs(check_profiles(V, mutant), False)
+
     def test_every_row_counts(self):
         for signature in (FORMS, EXPR, DOWN):
             paper = profile_paper(signature)
             known = profiles(signature)
             for k, row in enumerate(paper):
-                others = [paper[:k] + paper[k + 1:], paper[:k] + (row,) + paper[k:], paper[:k] + paper[k + 1:] + (row, row)]
+                others = [paper[:k] + paper[k + 1:], paper[:k] + (row,) + paper[k:],
+                          paper[:k] + paper[k + 1:] + (row, row)]
                 others.extend([paper[:j] + (row,) + paper[j:k] + paper[k + 1:] for j in range(k)])
                 others.extend([paper[:k] + (row[:2] + (state,) + row[3:],) + paper[k + 1:] for state in known])
                 others.extend([paper[:k] + ((word,) + row[1:],) + paper[k + 1:] for word, arity in signature[0]])

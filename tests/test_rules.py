@@ -5,11 +5,11 @@ import unittest
 from casefamilies.rules import check_rule, filled, is_complete, needs, rules, value_at
 from casefamilies.profiles import profile
 from casefamilies.terms import closed_terms
-from casefamilies.values import derivation, family_of, has_index, is_value
+from casefamilies.values import derivation, family_of, has_index, is_value, weight
 from reference import found_values, is_right_derivation, is_right_rule, plain_needs
 from samples import (
-    COUNTED, DOWN, EMPTY, EXPR, FORMS, NAMED, NUMBERS, ODDITIES, PARITY, REGISTER, V, bounded, number, random_signature,
-    structure_mutants, vector)
+    COUNTED, DOWN, EMPTY, EXPR, FORMS, NAMED, NUMBERS, ODDITIES, PARITY, REGISTER, V, agreeable_mutants, bounded,
+    number, random_signature, structure_mutants, vector)
 
 FIRST = ("first",)
 LONGER = ("vec", "succ", ("cons", FIRST, (0, "vec")))
@@ -60,10 +60,12 @@ class Checks(unittest.TestCase):
         wrong = [("vec", "zero", template), ("fin", "succ", template), ("vec", "succ", ("cons", FIRST, (1, "vec"))),
                  ("vec", "succ", ("cons", FIRST, (-1, "vec"))), ("vec", "succ", ("cons", FIRST, (False, "vec"))),
                  ("vec", "succ", ("cons", (0, "vec"), (0, "vec"))), ("vec", "succ", ("cons", (0, "fin"), (0, "vec"))),
-                 ("vec", "succ", (0, "vec")), ("fin", "succ", (0, "fin")), ("vec", "succ", ("nil",)), ("vec", "zero", (0, "vec")),
+                 ("vec", "succ", (0, "vec")), ("fin", "succ", (0, "fin")), ("vec", "succ", ("nil",)),
+                 ("vec", "zero", (0, "vec")),
                  ("vec", "succ", vector(1)), ("vec", "succ", ("cons", FIRST, ("cons", FIRST, (0, "vec")))),
                  ("vec", "succ", ["cons", FIRST, (0, "vec")]), ["vec", "succ", template], ("vec", "succ"),
-                 ("vec", "succ", template, ()), ("none", "succ", template), ("vec", "none", template), ("vec", 0, template),
+                 ("vec", "succ", template, ()), ("none", "succ", template), ("vec", "none", template),
+                 ("vec", 0, template),
                  (0, "succ", template), (["vec"], "succ", template), ("vec", ["succ"], template), ("vec", "succ", None),
                  ("vec", "succ", ()), ("vec", "succ", ("cons", FIRST)), ("vec", "succ", ("cons", FIRST, (0,))),
                  ("vec", "succ", ("cons", FIRST, (0, "vec", 0))), ("vec", "succ", ("cons", FIRST, [0, "vec"])),
@@ -78,6 +80,10 @@ class Checks(unittest.TestCase):
                                 (FORMS, ("left", "node", ("onleft", (1, "both"), (0, "both")))),
                                 (DOWN, ("down", "succ", ("fall", ("again", ("again", (0, "mark"))))))]:
             self.assertIs(check_rule(signature, rule), False, rule)
+
+    def test_things_that_claim_to_be_equal(self):
+        for mutant in agreeable_mutants(LONGER):
+            self.assertIs(check_rule(V, mutant), False)
 
     def test_a_hole_with_one_index_only(self):
         # The hole would have to have two indices at once.
@@ -198,6 +204,19 @@ class ValuesAt(unittest.TestCase):
                     self.assertEqual(value is not None, family in profile(signature, term))
                     if (family, term) in found:
                         self.assertIsNotNone(value)
+
+    def test_small_values_are_found_where_there_are_some(self):
+        # The first way to a value of f that can be tried has more than 1000 makers, the last one 3.
+        dear = ("dear", "f", ("zero",), (("g", number(5)),) * 3)
+        signature = (NUMBERS, ("f", "g", "h", "k"), (
+            dear, ("cheap", "f", ("zero",), (("h", ("zero",)),)), ("ground", "g", ("zero",), ()),
+            ("triple", "g", ("succ", 0), (("g", 0),) * 3), ("step", "h", ("zero",), (("k", ("zero",)),)),
+            ("base", "k", ("zero",), ())))
+        self.assertEqual(self.check_value(signature, "f", ("zero",)), ("cheap", ("step", ("base",))))
+        for family, word, template in rules(signature):
+            self.assertLess(weight(filled(template, {(0, "g"): ("ground",)})), 5)
+        without = (signature[0], signature[1], signature[2][:1] + signature[2][2:])
+        self.assertEqual(weight(self.check_value(without, "f", ("zero",))), 1093)
 
     def test_great_terms(self):
         self.assertIsNotNone(self.check_value(V, "vec", number(90)))

@@ -8,8 +8,8 @@ from casefamilies.signatures import (
     after, families_below, fitting, goal_variables, is_goal, is_signature, maker_of, makers_of, tidied_goal)
 from reference import is_plain_signature, plain_unifier
 from samples import (
-    EMPTY, EXPR, FORMS, NAMED, NUMBERS, ODDITIES, PARITY, TREES, V, number, random_signature, random_term, replaced,
-    structure_mutants, variables_of)
+    EMPTY, EXPR, FORMS, NAMED, NUMBERS, ODDITIES, PARITY, TREES, V, agreeable_mutants, number, random_signature,
+    random_term, replaced, structure_mutants, variables_of)
 
 FIRST = ("first", "fin", ("succ", 0), ())
 
@@ -35,12 +35,16 @@ class Signatures(unittest.TestCase):
 
     def test_wrong_makers(self):
         seven = ("node", ("succ", 0), ("node", 1, ("succ", ("leaf",))))
-        wrong = [("m", "fin", 0), ("m", "fin", 0, (), ()), ["m", "fin", 0, ()], ("M", "fin", 0, ()), ("m\n", "fin", 0, ()),
+        wrong = [("m", "fin", 0), ("m", "fin", 0, (), ()), ["m", "fin", 0, ()], ("M", "fin", 0, ()),
+                 ("m\n", "fin", 0, ()),
                  ("", "fin", 0, ()), (0, "fin", 0, ()), ("m", "none", 0, ()), ("m", 0, 0, ()), ("m", ["fin"], 0, ()),
                  ("m", "fin", 1, ()), ("m", "fin", True, ()), ("m", "fin", False, ()), ("m", "fin", -1, ()),
                  ("m", "fin", "zero", ()), ("m", "fin", ["zero"], ()), ("m", "fin", ("zero", 0), ()),
-                 ("m", "fin", ("succ", ("zero",)), ()), ("m", "fin", ("succ", 1), ()), ("m", "fin", ("node", 0, 0), ()),
-                 ("m", "fin", ("node", 1, 0), ()), ("m", "fin", ("node", 0, ("leaf",)), ()), ("m", "fin", ("succ", False), ()),
+                 ("m", "fin", ("succ", ("zero",)), ()), ("m", "fin", ("succ", ("succ", 0)), ()),
+                 ("m", "fin", ("node", ("node", 0, 1), ("leaf",)), ()), ("m", "fin", ("succ", 1), ()),
+                 ("m", "fin", ("node", 0, 0), ()),
+                 ("m", "fin", ("node", 1, 0), ()), ("m", "fin", ("node", 0, ("leaf",)), ()),
+                 ("m", "fin", ("succ", False), ()),
                  ("m", "fin", ("other",), ()), ("m", "fin", 0, []), ("m", "fin", 0, None), ("m", "fin", 0, ("fin", 0)),
                  ("m", "fin", 0, (("fin", 0),) * 4), ("m", "fin", 0, (("fin",),)), ("m", "fin", 0, (("fin", 0, 0),)),
                  ("m", "fin", 0, (["fin", 0],)), ("m", "fin", 0, (("none", 0),)), ("m", "fin", 0, (("fin", 2),)),
@@ -57,11 +61,13 @@ class Signatures(unittest.TestCase):
         many = tuple(["m" + letter for letter in "abcdefghi"])
         wrong = [(constructors, families), V + ((),), list(V), (list(constructors), families, makers),
                  (constructors, list(families), makers), (constructors, families, list(makers)),
-                 (constructors, (), ()), (constructors, ("fin", "fin"), ()), (constructors, ("fin", "vec", "fin"), makers),
+                 (constructors, (), ()), (constructors, ("fin", "fin"), ()),
+                 (constructors, ("fin", "vec", "fin"), makers),
                  (constructors, tuple("abcde"), ()), (constructors, ("fin", "vec", 0), makers),
                  (constructors, ("fin", "vec", "Vec"), makers), (constructors, ("fin", "vec", "vec\n"), makers),
                  (constructors, ("fin", ["vec"]), ()), (constructors, "fin", ()), ((), families, ()),
-                 ((("succ", 1),), families, ()), (constructors, ("fin",), makers), (constructors, families, makers[:1] * 2),
+                 ((("succ", 1),), families, ()), (constructors, ("fin",), makers),
+                 (constructors, families, makers[:1] * 2),
                  (constructors, families, (FIRST, ("first", "vec", 0, ()))), (constructors, families, None),
                  (constructors, families, tuple([(name, "fin", 0, ()) for name in many])),
                  ((("zero", 0),), families, makers), (constructors, families, (None,)), (constructors, families, FIRST)]
@@ -75,6 +81,12 @@ class Signatures(unittest.TestCase):
         for signature in (V, EXPR, FORMS, EMPTY):
             for mutant in structure_mutants(signature):
                 self.assertIs(is_signature(mutant), is_plain_signature(mutant), repr(mutant))
+
+    def test_things_that_claim_to_be_equal(self):
+        for mutant in agreeable_mutants(V):
+            self.assertIs(is_signature(mutant), False)
+        for mutant in agreeable_mutants((("fin", ("succ", 0)), ("vec", number(1)))):
+            self.assertIs(is_goal(V, mutant), False)
 
 
 class Makers(unittest.TestCase):
@@ -126,7 +138,8 @@ class Goals(unittest.TestCase):
     def test_no_goals(self):
         for goal in [[], [("fin", 0)], ("fin", 0), (["fin", 0],), (("fin",),), (("fin", 0, 0),), (("none", 0),),
                      (("fin", True),), (("fin", -1),), (("fin", "x"),), (("fin", ["zero"]),), (("fin", ("leaf",)),),
-                     (("fin\n", 0),), ((0, "fin"),), (("fin", 0), None), None, True, 0, "fin", {}, (("fin", ("succ",)),),
+                     (("fin\n", 0),), ((0, "fin"),), (("fin", 0), None), None, True, 0, "fin", {},
+                     (("fin", ("succ",)),),
                      (((), 0),), ((["fin"], 0),)]:
             self.assertIs(is_goal(V, goal), False, repr(goal))
         for value in ODDITIES:

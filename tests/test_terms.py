@@ -8,7 +8,7 @@ from casefamilies.errors import BadText
 from casefamilies.terms import (
     closed_terms, composed, count_closed_terms, height, is_closed_term, is_constructors, is_linear, is_term,
     is_word, read_term, shifted, size, substituted, tidied, variables, write_term)
-from samples import NUMBERS, ODDITIES, number, random_term
+from samples import NUMBERS, ODDITIES, agreeable_mutants, number, random_term
 
 PAIRS = (("zero", 0), ("succ", 1), ("pair", 2))
 WORDY = (("x", 0), ("xx", 1), ("a", 0), ("ab", 0), ("f", 2))
@@ -31,7 +31,8 @@ class Words(unittest.TestCase):
             self.assertIs(is_constructors(value), True, value)
 
     def test_no_constructors(self):
-        wrong = [(), (("a", 1),), (("a", 1), ("b", 2)), (("a", 0), ("a", 1)), (("a", 0), ("a", 0)), (("a", 3), ("b", 0)),
+        wrong = [(), (("a", 1),), (("a", 1), ("b", 2)), (("a", 0), ("a", 1)), (("a", 0), ("a", 0)),
+                 (("a", 3), ("b", 0)),
                  (("a", -1), ("b", 0)), (("a", False),), (("a", 0), ("b", True)), (("a", 0.0),), (["a", 0],),
                  [("a", 0)], (("a", 0), "b"), (("a", 0, 0),), (("a",),), (("a\n", 0),), (("A", 0),), ((["a"], 0),),
                  (("a", "0"),), (("a", None),), (("abcdefghijklm", 0),), tuple((w, 0) for w in "abcdef"), ("a", 0)]
@@ -65,6 +66,13 @@ class Forms(unittest.TestCase):
                 self.assertIs(is_term(PAIRS, value), False, repr(value))
             self.assertIs(is_closed_term(PAIRS, value), value == ("zero",), repr(value))
 
+    def test_things_that_claim_to_be_equal(self):
+        for mutant in agreeable_mutants(PAIRS):
+            self.assertIs(is_constructors(mutant), False)
+        for mutant in agreeable_mutants(("pair", ("succ", ("zero",)), ("zero",))):
+            self.assertIs(is_term(PAIRS, mutant), False)
+            self.assertIs(is_closed_term(PAIRS, mutant), False)
+
     def test_deep_values(self):
         value = 0
         for _ in range(99):
@@ -79,7 +87,8 @@ class Forms(unittest.TestCase):
 class Measures(unittest.TestCase):
     def test_size_and_height(self):
         for term, nodes, levels in [(4, 1, 1), (("zero",), 1, 1), (("succ", 0), 2, 2), (number(9), 10, 10),
-                                    (("pair", ("succ", 0), ("succ", 0)), 5, 3), (("pair", 0, ("succ", ("zero",))), 4, 3)]:
+                                    (("pair", ("succ", 0), ("succ", 0)), 5, 3),
+                                    (("pair", 0, ("succ", ("zero",))), 4, 3)]:
             self.assertEqual(size(term), nodes)
             self.assertEqual(height(term), levels)
 

@@ -10,6 +10,7 @@ from reference import plain_match, plain_unifier
 from samples import number, random_term, replaced, variables_of
 
 PAIRS = (("zero", 0), ("succ", 1), ("pair", 2))
+WORDS = (("zero", 0), ("one", 0), ("pair", 2), ("sum", 2))
 
 
 class Unifier(unittest.TestCase):
@@ -52,9 +53,9 @@ class Unifier(unittest.TestCase):
         rng = random.Random(3)
         for _ in range(3000):
             many = rng.randint(1, 6)
-            equations = [(random_term(rng, PAIRS, many, rng.randint(1, 8)), random_term(rng, PAIRS, many, rng.randint(1, 8)))
-                         for _ in range(rng.randint(1, 4))]
-            self.check(equations)
+            words = rng.choice([PAIRS, WORDS])
+            terms = [random_term(rng, words, many, rng.randint(1, 8)) for _ in range(8)]
+            self.check(list(zip(terms[:4], terms[4:]))[:rng.randint(1, 4)])
 
     def test_equations_stay_as_they_are(self):
         equations = [(("pair", 0, 1), ("pair", 2, ("succ", 0)))]
@@ -71,7 +72,8 @@ class Unifier(unittest.TestCase):
         self.assertEqual(size(steps[0]), 61)
         self.assertIsNone(unifier([(k, ("succ", k + 1)) for k in range(40)] + [(40, ("succ", 0))]))
         # The same two classes meet again and again: each pair of them is looked at once only.
-        doubled = [(k, ("pair", k + 1, k + 1)) for k in range(8)] + [(k + 20, ("pair", k + 21, k + 21)) for k in range(8)]
+        doubled = [(k, ("pair", k + 1, k + 1)) for k in range(8)]
+        doubled.extend((k, ("pair", k + 1, k + 1)) for k in range(20, 28))
         found = unifier(doubled + [(0, 20)])
         self.assertEqual(found[0], found[20])
         self.assertEqual(size(found[0]), 2 ** 9 - 1)
@@ -91,14 +93,20 @@ class Match(unittest.TestCase):
         self.assertIsNone(match(("succ", 0), 0))
         self.assertIsNone(match(number(1), number(0)))
         self.assertIsNone(match(number(0), 3))
+        self.assertIsNone(match(("pair", 0, 1), ("sum", 0, 1)))
+        self.assertIsNone(match(("sum", 0, ("one",)), ("sum", 0, ("zero",))))
+        self.assertIsNone(unifier([(("pair", 0, 1), ("sum", 2, 3))]))
+        self.assertEqual(join(("pair", ("one",), 0), ("pair", ("zero",), 0)), ("pair", 0, 1))
+        self.assertEqual(join(("pair", 1, 1), ("sum", 1, 1)), 0)
 
     def test_random_ones(self):
         rng = random.Random(4)
         for _ in range(3000):
-            p = random_term(rng, PAIRS, 3, rng.randint(1, 5))
-            t = random_term(rng, PAIRS, 3, rng.randint(1, 7))
+            words = rng.choice([PAIRS, WORDS])
+            p = random_term(rng, words, 3, rng.randint(1, 5))
+            t = random_term(rng, words, 3, rng.randint(1, 7))
             if rng.random() < 0.5:
-                t = replaced(p, {k: random_term(rng, PAIRS, 3, 4) for k in range(3)})
+                t = replaced(p, {k: random_term(rng, words, 3, 4) for k in range(3)})
             found = match(p, t)
             self.assertEqual(found is not None, plain_match(p, t))
             if found is not None:

@@ -10,8 +10,8 @@ from casefamilies.values import (
 from reference import has_index as plainly_has_index
 from reference import is_right_derivation, plain_match, values_up_to
 from samples import (
-    COUNTED, DOWN, EXPR, FORMS, NAMED, ODDITIES, PARITY, REGISTER, V, bounded, instances, number, random_signature, replaced,
-    same, structure_mutants, vector)
+    COUNTED, DOWN, EXPR, FORMS, NAMED, NUMBERS, ODDITIES, PARITY, REGISTER, V, agreeable_mutants, bounded, instances,
+    number, random_signature, replaced, same, structure_mutants, vector)
 
 ZERO = ("zero",)
 FIRST = ("first",)
@@ -40,10 +40,13 @@ class Forms(unittest.TestCase):
                     self.assertIs(is_value(signature, value), True, value)
 
     def test_no_values(self):
-        wrong = [(), ("first", FIRST), ("more",), ("more", NIL), ("more", "first"), ("more", ["first"]), ["first"], "first",
-                 ("none",), ("first\n",), ("fin",), ("zero",), ("cons", FIRST), ("cons", NIL, FIRST), ("cons", FIRST, FIRST),
+        wrong = [(), ("first", FIRST), ("more",), ("more", NIL), ("more", "first"), ("more", ["first"]), ["first"],
+                 "first",
+                 ("none",), ("first\n",), ("fin",), ("zero",), ("cons", FIRST), ("cons", NIL, FIRST),
+                 ("cons", FIRST, FIRST),
                  ("cons", FIRST, NIL, NIL), ("cons", (0, "fin"), NIL), (0, "fin"), (0, "vec"), (True, "fin"), (0,),
-                 ("more", (0, "fin")), ("more", 0), ("more", True), ("more", None), (FIRST,), ((),), (None,), (["first"],)]
+                 ("more", (0, "fin")), ("more", 0), ("more", True), ("more", None), (FIRST,), ((),), (None,),
+                 (["first"],)]
         for value in wrong + [odd for odd in ODDITIES if odd != ("nil",) or type(odd) is not tuple]:
             self.assertIs(is_value(V, value), False, repr(value))
         deep = []
@@ -57,6 +60,12 @@ class Forms(unittest.TestCase):
                 known = mutant in values_up_to(V, 7)["vec"] + values_up_to(V, 7)["fin"]
                 self.assertIs(is_value(V, mutant), known, repr(mutant))
 
+    def test_things_that_claim_to_be_equal(self):
+        for mutant in agreeable_mutants(vector(2)):
+            self.assertIs(is_value(V, mutant), False)
+        for mutant in agreeable_mutants(derivation(V, vector(2), number(2))):
+            self.assertIs(check_derivation(V, vector(2), number(2), mutant), False)
+
     def test_measures(self):
         for value, family, makers, levels in [(FIRST, "fin", 1, 1), (NIL, "vec", 1, 1), (bounded(4), "fin", 5, 5),
                                               (vector(3), "vec", 7, 4), (WRONG, "vec", 7, 5)]:
@@ -69,7 +78,8 @@ class Forms(unittest.TestCase):
         self.assertEqual(part_at(value, ()), value)
         for place in places(value):
             self.assertEqual(part_at(value, place), plain_part(value, place))
-        for place in [(2,), (-1,), (0, 0), (1, 1, 1, 0), (1, -1), (1, 2), (0, -1), (10 ** 9,), (-2,), (1, 1, 1, -1), (3,)]:
+        for place in [(2,), (-1,), (0, 0), (1, 1, 1, 0), (1, -1), (1, 2), (0, -1), (10 ** 9,), (-2,), (1, 1, 1, -1),
+                      (3,)]:
             with self.assertRaises(Unknown, msg=place):
                 part_at(value, place)
         with self.assertRaises(Unknown):
@@ -79,7 +89,8 @@ class Forms(unittest.TestCase):
 class Indices(unittest.TestCase):
     def test_known_general_indices(self):
         for value, index in [(FIRST, ("succ", 0)), (("more", FIRST), ("succ", ("succ", 0))), (NIL, ZERO),
-                             (("cons", ("more", FIRST), NIL), ("succ", ZERO)), (vector(3), number(3)), (WRONG, number(2))]:
+                             (("cons", ("more", FIRST), NIL), ("succ", ZERO)), (vector(3), number(3)),
+                             (WRONG, number(2))]:
             self.assertEqual(general_index(V, value), index)
         self.assertEqual(general_index(PARITY, ("up", ("none",))), number(1))
         self.assertEqual(general_index(EXPR, ("keep", ("null",))), ("arrow", 0, ("nat",)))
@@ -90,7 +101,7 @@ class Indices(unittest.TestCase):
         self.assertEqual(general_index(COUNTED, ("third", ("low",), ("next", ("start",)))), ("succ", ZERO))
 
     def test_a_variable_alone_can_be_the_general_index(self):
-        free = ((("zero", 0), ("succ", 1)), ("any",), (("all", "any", 0, ()), ("both", "any", 0, (("any", 0), ("any", 1)))))
+        free = (NUMBERS, ("any",), (("all", "any", 0, ()), ("both", "any", 0, (("any", 0), ("any", 1)))))
         self.assertEqual(general_index(free, ("all",)), 0)
         self.assertEqual(general_index(free, ("both", ("all",), ("both", ("all",), ("all",)))), 0)
         self.assertIs(has_index(free, ("both", ("all",), ("all",)), number(7)), True)
@@ -167,7 +178,8 @@ class Derivations(unittest.TestCase):
             self.assertIs(check_derivation(V, value, number(2), found), False)
             self.assertIs(check_derivation(V, ("cons", FIRST, NIL), number(1), found), False)
             self.assertIs(check_derivation(V, NIL, number(1), found), False)
-        for odd in ODDITIES + [("cons", (0, 0), ()), ("nil", (), ()), ["nil", (), ()], ("nil", [], ()), ("nil", (), [])]:
+        for odd in ODDITIES + [("cons", (0, 0), ()), ("nil", (), ()), ["nil", (), ()], ("nil", [], ()),
+                               ("nil", (), [])]:
             self.assertIs(check_derivation(V, value, number(1), odd), False, repr(odd))
         self.assertIs(check_derivation(V, NIL, ZERO, ("nil", (), ())), True)
         self.assertIs(check_derivation(V, NIL, ZERO, ["nil", (), ()]), False)
@@ -182,7 +194,8 @@ class Derivations(unittest.TestCase):
         self.assertIs(check_derivation(V, FIRST, number(1), ("first", (ZERO, ZERO), ())), False)
 
     def test_every_item_counts(self):
-        for signature, value, index in [(V, vector(2), number(2)), (EXPR, ("apply", ("keep", ("true",)), ("null",)), ("bool",)),
+        for signature, value, index in [(V, vector(2), number(2)),
+                                        (EXPR, ("apply", ("keep", ("true",)), ("null",)), ("bool",)),
                                         (DOWN, ("fall", ("again", ("again", ("here",)))), ("stop", ("zero",)))]:
             found = derivation(signature, value, index)
             self.assertTrue(is_right_derivation(signature, value, index, found))
