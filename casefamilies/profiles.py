@@ -25,8 +25,8 @@ def profile_after(signature, word, parts):
     known = [states.profile_of(mask) for mask in states.masks]
     if not all([part in known for part in parts]):
         raise NoProfile("a part is not the profile of a closed term")
-    masks = [states.masks[known.index(part)] for part in parts]
-    return states.profile_of(states.table[(word, *masks)])
+    row = (word, *[states.masks[known.index(part)] for part in parts])
+    return states.profile_of(states.table[row])
 
 
 def profile_paper(signature):

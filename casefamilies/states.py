@@ -21,7 +21,8 @@ def state_at(table, term, given):
     """Return the state of a term, where those of its variables are given by their numbers."""
     if type(term) is int:
         return given[term]
-    return table[(term[0], *[state_at(table, part, given) for part in term[1:]])]
+    row = (term[0], *[state_at(table, part, given) for part in term[1:]])
+    return table[row]
 
 
 def breaches(maker, pools, table, members):
@@ -97,9 +98,10 @@ class States:
 
     def fill(self, word, parts):
         """Enter the row of a word and the states of its parts, if it is new."""
-        if (word, *parts) not in self.table:
+        row = (word, *parts)
+        if row not in self.table:
             mask = self.mask_after(word, parts)
-            self.table[(word, *parts)] = mask
+            self.table[row] = mask
             if mask not in self.masks:
                 self.masks.append(mask)
 

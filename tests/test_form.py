@@ -46,6 +46,12 @@ class Form(unittest.TestCase):
                     self.assertLessEqual(node.end_lineno - node.lineno + 1, 40, (name, node.name))
                     self.assertIsNotNone(ast.get_docstring(node) or node.name.startswith("__"), (name, node.name))
 
+    def test_no_star_stands_in_an_index(self):
+        for name, tree in self.trees.items():
+            indexes = [node.slice for node in ast.walk(tree) if isinstance(node, ast.Subscript)]
+            stars = [part.lineno for index in indexes for part in ast.walk(index) if isinstance(part, ast.Starred)]
+            self.assertEqual(stars, [], name)
+
     def test_interface_is_defined_where_it_is_listed(self):
         for module, names in INTERFACE.items():
             body = self.trees[module + ".py"].body
