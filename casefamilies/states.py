@@ -26,11 +26,17 @@ def state_at(table, term, given):
 
 
 def breaches(maker, pools, table, members):
-    """Return the choices of states at which a maker has its arguments but not its own value.
-
-    The pools are lists of the states that are tried for the variables 0, 1, 2, ..
-    """
+    """Return the choices of states at which a maker has its arguments but not its own value."""
     tests = [(family, index, True) for family, index in maker[3]] + [(maker[1], maker[2], False)]
+    return choices_that_fit(tests, pools, table, members)
+
+
+def choices_that_fit(tests, pools, table, members):
+    """Return the choices of states at which tests come out as they should.
+
+    A test is a tuple of a family, an index, and True or False: whether the state of the index is to
+    have the family. The pools are lists of the states that are tried for the variables 0, 1, 2, ..
+    """
     found = [()]
     for level in range(len(pools) + 1):
         # A type is asked as soon as all its variables have states: most choices end early.

@@ -1,7 +1,7 @@
 """Values over a signature, their indices and derivations (part 4)."""
 
 from casefamilies.errors import Unknown
-from casefamilies.signatures import maker_of, maker_variables, makers_by_name
+from casefamilies.signatures import goal_variables, maker_of, maker_variables, makers_by_name
 from casefamilies.terms import height, is_closed_term, shifted, size, substituted, tidied
 from casefamilies.terms import variables
 from casefamilies.unify import match, unifier
@@ -112,6 +112,21 @@ def solved(maker, generals, equations):
         # The general indices are tidy: the numbers behind their variables are free.
         far += len(variables(general))
     return unifier(equations)
+
+
+def is_solution(signature, goal, value):
+    """Return True if a value is a tuple of values that solves a goal (point 8.1)."""
+    if type(value) is not tuple or len(value) != len(goal):
+        return False
+    equations = []
+    far = max(goal_variables(goal), default=-1) + 1
+    for (family, index), part in zip(goal, value):
+        general = general_index(signature, part) if is_template(signature, family, 0, part) else None
+        if general is None:
+            return False
+        equations.append((index, shifted(general, far)))
+        far += len(variables(general))
+    return unifier(equations) is not None
 
 
 def derivation(signature, value, index):

@@ -155,6 +155,30 @@ def random_signature(seed):
     return (constructors, families, makers)
 
 
+def lively_signature(seed):
+    """Return a signature that a number chooses, in which most families have many values."""
+    rng = random.Random(seed)
+    constructors = rng.choice([NUMBERS, TREES, (("a", 0), ("b", 0), ("c", 2)),
+                               (("a", 0), ("b", 1), ("c", 1), ("d", 2))])
+    families = ("f", "g", "h")[:rng.randint(1, 3)]
+    makers = []
+    for k in range(rng.randint(5, 8)):
+        # Each family has a maker without arguments.
+        family = families[k] if k < len(families) else rng.choice(families)
+        while True:
+            name, _, head, arguments = random_maker(rng, "m" + "abcdefgh"[k], constructors, families, 3)
+            if k >= len(families) or not arguments:
+                break
+        makers.append((name, family, 0 if rng.random() < 0.3 and not arguments else head, arguments))
+    return (constructors, families, tuple(makers))
+
+
+def random_goal(rng, signature, most, nodes=5):
+    """Return a goal with at most so many types and 3 variables."""
+    return tuple((rng.choice(signature[1]), random_term(rng, signature[0], 3, rng.randint(1, nodes)))
+                 for _ in range(rng.randint(0, most)))
+
+
 def instances(term, closed):
     """Return the closed terms that a term becomes with closed terms of a list for its variables."""
     found = [term]

@@ -3,6 +3,7 @@
 import doctest
 import unittest
 
+from drafts import P
 from samples import V
 
 EXAMPLES = {
@@ -61,13 +62,61 @@ True
 >>> first_difference(V, "fin", V, "vec")
 ('zero',)
 """,
+    "models and answers": """
+>>> from casefamilies.answers import check_answer, possible
+>>> check_answer(V, (("fin", 3),), ("full", ((3, ("succ", ("zero",))),), (("first",),)))
+True
+>>> check_answer(V, (("fin", ("zero",)),), ("empty", (2, ((0,), (1, 1)), ((1,), (0, 1)))))
+True
+>>> possible(V, (("fin", 0), ("vec", 0)))
+[(('fin', 'vec'),)]
+""",
+    "lightest": """
+>>> from casefamilies.lightest import least_weight, lightest
+>>> lightest(V, (("fin", 0), ("vec", 0)), 6)
+(('first',), ('cons', ('first',), ('nil',)))
+>>> least_weight(V, (("fin", ("zero",)),), 6) is None
+True
+""",
+    "counting": """
+>>> from casefamilies.counting import count_values, index_classes, unrank
+>>> index_classes(V, "fin", 2)
+[(('succ', ('succ', 0)), 1)]
+>>> count_values(V, "vec", ("succ", ("succ", ("zero",))), 6)
+2
+>>> unrank(V, "vec", ("succ", ("zero",)), 4, 0)
+('cons', ('more', ('first',)), ('nil',))
+""",
+    "programs and fits": """
+>>> from casefamilies.programs import is_program
+>>> is_program(P)
+True
+>>> from casefamilies.fits import fit
+>>> fit(V, 1, (("vec", ("succ", 0)),), (("cons", "a", ("cons", "b", "ys")),))
+((('succ', 0),), (('a', 'fin', ('succ', 1)), ('b', 'fin', ('succ', 2)), ('ys', 'vec', 0)))
+""",
+    "covers and splits": """
+>>> from casefamilies.splits import check_cover
+>>> tree = ("split", (0,), (("clash",), ("split", (0, 1), (("clause", 0), ("clause", 1)))))
+>>> check_cover(P, "place", ("covered", tree))
+True
+>>> check_cover(P, "place", ("missing", (("nil",),)))
+False
+""",
+    "bodies": """
+>>> from casefamilies.bodies import check_body, clause_fault
+>>> check_body(P, "place", 0, ("first", (("zero",),), ()))
+True
+>>> clause_fault(P, "place", 1)
+''
+""",
 }
 
 
 class Examples(unittest.TestCase):
     def test_examples(self):
         for name, text in EXAMPLES.items():
-            example = doctest.DocTestParser().get_doctest(text, {"V": V}, name, None, 0)
+            example = doctest.DocTestParser().get_doctest(text, {"V": V, "P": P}, name, None, 0)
             result = doctest.DocTestRunner().run(example)
             self.assertEqual(result.failed, 0, name)
             self.assertGreater(result.attempted, 1, name)

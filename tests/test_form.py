@@ -18,6 +18,15 @@ INTERFACE = {
     "rules": "check_rule is_complete filled needs rules value_at",
     "profiles": "profile profiles profile_after profile_paper check_profiles",
     "indexsets": "indices_of count_indices count_likenesses least_index first_difference is_finite is_part",
+    "models": "is_model fails_in state_of",
+    "answers": "answer check_answer has_solution possible dead_makers",
+    "lightest": "values_of least_weight lightest",
+    "counting": "index_classes count_values count_solutions rank unrank",
+    "programs": "is_program function_of matched first_clause",
+    "fits": "fit",
+    "covers": "cover_paper reach_paper is_covered useless_clauses",
+    "splits": "check_cover check_reach",
+    "bodies": "body_paper check_body clause_fault faults",
 }
 
 
