@@ -19,9 +19,7 @@ def has_model_form(signature, value):
     n, tables, sets = value
     if type(n) is not int or not 1 <= n <= MOST_STATES:
         return False
-    if type(tables) is not tuple or len(tables) != len(signature[0]):
-        return False
-    if type(sets) is not tuple or len(sets) != len(signature[1]):
+    if type(tables) is not tuple or type(sets) is not tuple or len(sets) != len(signature[1]):
         return False
     if not all([are_states(n, part) for part in (*tables, *sets)]):
         return False

@@ -132,6 +132,14 @@ class Checks(unittest.TestCase):
         self.assertIs(check_answer(V, (), ("full", (), (FIRST,))), False)
         self.assertIs(check_answer(V, (), ("full", ((0, number(0)),), ())), False)
 
+    def test_holes_are_no_values(self):
+        # The index of the second part is told by nothing: a hole would do there, but is no value.
+        goal = (("expr", ("nat",)),)
+        self.assertIs(check_answer(EXPR, goal, ("full", (), (("apply", ("keep", ("null",)), ("true",)),))), True)
+        for part in [(0, "expr"), (1, "expr"), (0,), 0]:
+            value = ("full", (), (("apply", ("keep", ("null",)), part),))
+            self.assertIs(check_answer(EXPR, goal, value), False)
+
     def test_values_without_the_index(self):
         # The variable stands for the same term in both types.
         goal = (("vec", 0), ("fin", ("succ", 0)))

@@ -207,6 +207,9 @@ class CoverChecks(unittest.TestCase):
         lone = one_function(EXPR, (("expr", ("arrow", 0, 1)),), ("expr", 1), ())
         self.assertIs(check_cover(lone, "run", ("missing", (ill,))), False)
         self.assertIs(check_cover(lone, "run", ("missing", (("keep", ("null",)),))), True)
+        for part, wanted in [(("true",), True), ((0, "expr"), False), (("first",), False)]:
+            value = ("apply", ("keep", ("keep", ("null",))), part)
+            self.assertIs(check_cover(lone, "run", ("missing", (value,))), wanted)
 
     def test_values_of_no_form(self):
         for value in ODDITIES + [("covered",), ("covered", TREE, ()), ["covered", TREE], (TREE, "covered"), TREE,
@@ -262,6 +265,16 @@ class Reach(unittest.TestCase):
             self.assertIs(check_reach(program, "run", k, ("useless", tree)), k == 2)
         self.assertIs(check_reach(program, "run", 2, ("useless", ("split", (0,), (("clause", 0), ("clause", 2))))),
                       False)
+
+    def test_variables_that_are_called_like_makers(self):
+        letters = (NUMBERS, ("f",), (("a", "f", 0, ()), ("b", "f", 0, (("f", 0),))))
+        program = one_function(letters, (("f", 0), ("f", 0)), ("f", 0), (
+            ((("a",), "b"), "b"), (("a", ("b", "c")), "a"), (("a", "b"), "a"), (("b", "a"), "a")))
+        self.assertEqual(useless_clauses(program, "run"), [3])
+        self.assertIs(check_reach(program, "run", 1, ("useless", ("clause", 0))), False)
+        self.assertIs(check_reach(program, "run", 2, ("useless", ("clause", 1))), False)
+        self.assertIs(check_reach(program, "run", 3, ("useless", ("clause", 2))), True)
+        self.assertIs(check_cover(program, "run", ("covered", ("clause", 0))), False)
 
     def test_clauses_without_values(self):
         program = one_function(PARITY, (("odd", 0), ("even", ("succ", 0))), ("odd", 0), (

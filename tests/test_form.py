@@ -1,6 +1,7 @@
 """The form of the files of the package: sizes, imports, and where the interface is defined."""
 
 import ast
+import builtins
 import os
 import unittest
 
@@ -60,6 +61,25 @@ class Form(unittest.TestCase):
             indexes = [node.slice for node in ast.walk(tree) if isinstance(node, ast.Subscript)]
             stars = [part.lineno for index in indexes for part in ast.walk(index) if isinstance(part, ast.Starred)]
             self.assertEqual(stars, [], name)
+
+    def test_no_name_has_another_meaning(self):
+        taken = set(dir(builtins)) | set("elements open input law mro register copyright exit help id type vars".split())
+        for name, tree in self.trees.items():
+            imported = [alias.name for node in tree.body if isinstance(node, ast.ImportFrom) for alias in node.names]
+            for node in ast.walk(tree):
+                bound = [node.arg] if isinstance(node, ast.arg) else []
+                bound += [node.name] if isinstance(node, (ast.FunctionDef, ast.ClassDef)) else []
+                bound += [node.id] if isinstance(node, ast.Name) and isinstance(node.ctx, ast.Store) else []
+                for word in bound:
+                    self.assertNotIn(word, taken | set(imported), (name, node.lineno))
+
+    def test_what_the_subset_leaves_out(self):
+        barred = (ast.GeneratorExp, ast.Set, ast.SetComp, ast.Global, ast.AsyncFunctionDef, ast.Await, ast.Div, ast.Pow)
+        for name, tree in self.trees.items():
+            for node in ast.walk(tree):
+                self.assertNotIsInstance(node, barred, (name, getattr(node, "lineno", None)))
+                if isinstance(node, ast.Call) and isinstance(node.func, ast.Name) and node.func.id in ("zip", "range"):
+                    self.assertFalse(any(isinstance(part, ast.Starred) for part in node.args), (name, node.lineno))
 
     def test_interface_is_defined_where_it_is_listed(self):
         for module, names in INTERFACE.items():

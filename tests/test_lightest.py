@@ -108,6 +108,10 @@ class Lightest(unittest.TestCase):
                                    ("b", "f", ("succ", 0), ())))
         self.assertEqual(lightest(order, (("f", 0),), 6), (("b",),))
         self.assertEqual(lightest(order, (("f", ("zero",)), ("f", 0)), 6), (("z",), ("b",)))
+        turned = (NUMBERS, ("f",), (("z", "f", 0, ()), ("k", "f", 0, ()), ("b", "f", 0, (("f", 0),)),
+                                    ("q", "f", 0, ())))
+        self.assertEqual(lightest(turned, (("f", 0), ("f", 0)), 6), (("k",), ("k",)))
+        self.assertEqual(values_of(turned, "f", ("zero",), 2), [("b", ("k",)), ("b", ("q",)), ("b", ("z",))])
 
     def test_bounds(self):
         goal = (("fin", 0), ("vec", 0))
@@ -143,6 +147,8 @@ class Lightest(unittest.TestCase):
         seen = {None: 0}
         for seed in range(160):
             signature = some_signature(seed)
+            # The order of the makers is not that of their names.
+            signature = signature[:2] + (signature[2][::-1],)
             goal = random_goal(random.Random(seed), signature, 3)
             if sum(len(values) for values in values_up_to(signature, 5).values()) > 400:
                 continue
