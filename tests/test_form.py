@@ -63,7 +63,8 @@ class Form(unittest.TestCase):
             self.assertEqual(stars, [], name)
 
     def test_no_name_has_another_meaning(self):
-        taken = set(dir(builtins)) | set("elements open input law mro register copyright exit help id type vars".split())
+        # The examples of doctest leave a builtin called _ behind.
+        taken = set(dir(builtins)) - {"_"} | set("elements law mro register".split())
         for name, tree in self.trees.items():
             imported = [alias.name for node in tree.body if isinstance(node, ast.ImportFrom) for alias in node.names]
             for node in ast.walk(tree):
