@@ -58,7 +58,8 @@ class Search:
         if not self.solver.has_solution(goal):
             return self.void, None
         # A clause that has a maker at few places is soon out of the way, or takes what is left.
-        alive = [k for many, k in sorted([(len(gaps[k]), k) for k in allowed if gaps[k] is not None])]
+        open_ones = [(len(gaps[k]), k) for k in allowed if gaps[k] is not None]
+        alive = [k for many, k in sorted(open_ones)]
         while alive and not self.is_inhabited(merged(patterns, self.clauses[alive[0]])):
             alive = alive[1:]
         if not alive:
