@@ -2,7 +2,9 @@
 
 from casefamilies.networks import chosen_states
 from casefamilies.recipes import Kitchen, ways_after, ways_at
+from casefamilies.signatures import tidied_goal
 from casefamilies.states import least_states, tuples_of
+from casefamilies.terms import variables, write_term
 
 
 class Witness:
@@ -21,6 +23,7 @@ class Solver:
     def __init__(self, signature):
         self.signature = signature
         self.states = least_states(signature)
+        self.solvable = {}
         self.recipes = {}
         self.witnesses = {}
         self.prices = {}
@@ -31,7 +34,18 @@ class Solver:
 
     def has_solution(self, goal):
         """Return True if a goal has a solution."""
-        return self.profile_states(goal) is not None
+        for numbers in unlinked(goal):
+            if not self.part_has_solution(tidied_goal([goal[k] for k in numbers])):
+                return False
+        return True
+
+    def part_has_solution(self, goal):
+        """Return True if a tidied goal has a solution, which is worked out once."""
+        # Terms may be nested too deep for a key: their texts stand for them.
+        name = " ".join([family + " " + write_term(index) for family, index in goal])
+        if name not in self.solvable:
+            self.solvable[name] = self.profile_states(goal) is not None
+        return self.solvable[name]
 
     def solution(self, goal):
         """Return closed terms for the variables of a goal that has a solution, and values for its types."""
@@ -87,3 +101,17 @@ class Solver:
         bits = [self.states.bit(family) for family in self.signature[1]]
         sets = [tuple([k for k, mask in enumerate(masks) if mask & bit]) for bit in bits]
         return (len(masks), tuple(tables), tuple(sets))
+
+
+def unlinked(goal):
+    """Return the parts of a goal that have no variables in common, each as a list of the numbers of its types."""
+    parts = {}
+    owners = {}
+    names = [variables(index) for family, index in goal]
+    for k in range(len(names)):
+        near = sorted(set([owners[variable] for variable in names[k] if variable in owners]))
+        parts[k] = [number for other in near for number in parts.pop(other)] + [k]
+        for number in parts[k]:
+            for variable in names[number]:
+                owners[variable] = k
+    return list(parts.values())

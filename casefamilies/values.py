@@ -105,10 +105,17 @@ def index_tree(makers, template):
 
 def solved(maker, generals, equations):
     """Return the unifier of some equations and of the arguments of a maker with given indices."""
+    return unified(maker[3], generals, len(maker_variables(maker)), equations)
+
+
+def unified(types, generals, far, equations):
+    """Return the unifier of some equations and of types with general indices, or None.
+
+    The variables of the general indices are numbered from far on.
+    """
     equations = list(equations)
-    far = len(maker_variables(maker))
-    for argument, general in zip(maker[3], generals):
-        equations.append((argument[1], shifted(general, far)))
+    for (family, index), general in zip(types, generals):
+        equations.append((index, shifted(general, far)))
         # The general indices are tidy: the numbers behind their variables are free.
         far += len(variables(general))
     return unifier(equations)
@@ -118,15 +125,11 @@ def is_solution(signature, goal, value):
     """Return True if a value is a tuple of values that solves a goal (point 8.1)."""
     if type(value) is not tuple or len(value) != len(goal):
         return False
-    equations = []
+    if not all([is_template(signature, part[0], 0, below) for part, below in zip(goal, value)]):
+        return False
+    generals = [general_index(signature, part) for part in value]
     far = max(goal_variables(goal), default=-1) + 1
-    for (family, index), part in zip(goal, value):
-        general = general_index(signature, part) if is_template(signature, family, 0, part) else None
-        if general is None:
-            return False
-        equations.append((index, shifted(general, far)))
-        far += len(variables(general))
-    return unifier(equations) is not None
+    return None not in generals and unified(goal, generals, far, []) is not None
 
 
 def derivation(signature, value, index):

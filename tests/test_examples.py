@@ -110,6 +110,68 @@ True
 >>> clause_fault(P, "place", 1)
 ''
 """,
+    "evaluation": """
+>>> from casefamilies.evaluation import result_index, run
+>>> run(P, ("place", ("cons", ("first",), ("cons", ("first",), ("nil",)))), 9)
+('value', ('more', ('first',)), 2)
+>>> run(P, ("place", ("nil",)), 9)
+('stuck', 'place', (('nil',),), 0)
+>>> result_index(P, "place", (("cons", ("first",), ("nil",)),))
+('succ', ('zero',))
+""",
+    "descent and soundness": """
+>>> from casefamilies.descent import calls_of, then
+>>> calls_of(P)
+[('place', 1, (0,), 'place', ((0, 0, 1),))]
+>>> then(("f", "f", ((0, 1, 0), (1, 0, 1))), ("f", "f", ((0, 1, 0), (1, 0, 1))))
+('f', 'f', ((0, 0, 1), (1, 1, 1)))
+>>> from casefamilies.soundness import is_sound
+>>> is_sound(P)
+True
+""",
+    "casetrees and treechecks": """
+>>> from casefamilies.casetrees import case_tree_by
+>>> case_tree_by(P, "place", (0,))
+('look', (0,), (('cons', ('look', (0, 1), (('nil', ('take', 0)), ('cons', ('take', 1))))),))
+>>> from casefamilies.treechecks import check_tree
+>>> check_tree(P, "place", case_tree_by(P, "place", (0,)))
+True
+""",
+    "storing": """
+>>> from casefamilies.storing import restored, stored, texts_of
+>>> stored(V, (("vec", ("succ", ("zero",))),), (("cons", ("more", ("first",)), ("nil",)),))
+'10'
+>>> restored(V, (("vec", ("succ", ("zero",))),), "0")
+(('cons', ('first',), ('nil',)),)
+>>> texts_of(V, (("fin", ("succ", ("succ", ("zero",)))),), 1)
+['0', '1']
+""",
+    "workbook": """
+>>> from casefamilies.workbook import Workbook
+>>> book = Workbook((V[:2] + (V[2][:3],), ()))
+>>> book.ask("q", (("vec", ("succ", 0)),))
+>>> book.add_maker(V[2][3])
+['q']
+""",
+    "texts": """
+>>> from casefamilies.texts import read_program, write_expression, write_goal, write_program
+>>> write_goal((("fin", ("succ", 1)), ("vec", 0)))
+'fin(succ(x1)), vec(x0)'
+>>> write_expression(("cons", "a", ("nil",)))
+'cons(a,nil())'
+>>> read_program(write_program(P)) == P
+True
+""",
+    "console": """
+>>> from casefamilies.console import Console
+>>> console = Console(P)
+>>> console.enter("count vec(succ(zero)) 4")
+['1']
+>>> console.enter("run place(cons(first(),nil())) 9")
+['value first() 1']
+>>> console.enter("drop cons")
+['error InUse']
+""",
 }
 
 

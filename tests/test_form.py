@@ -28,6 +28,20 @@ INTERFACE = {
     "covers": "cover_paper reach_paper is_covered useless_clauses",
     "splits": "check_cover check_reach",
     "bodies": "body_paper check_body clause_fault faults",
+    "evaluation": "step run typed_call result_index",
+    "descent": "calls_of then descent_paper check_descent all_fall",
+    "soundness": "is_sound",
+    "casetrees": "case_tree case_tree_by run_tree looked_at most_looks",
+    "treechecks": "check_tree",
+    "storing": "choices stored restored texts_of",
+    "workbook": "Workbook",
+    "texts": "write_goal write_expression write_program read_goal read_expression read_program",
+    "console": "Console",
+}
+METHODS = {
+    ("workbook", "Workbook"): "program questions add_maker drop_maker set_function drop_function ask forget answer_to "
+                              "cover_of kept_answers kept_covers undo",
+    ("console", "Console"): "enter",
 }
 
 
@@ -88,6 +102,34 @@ class Form(unittest.TestCase):
             defined = [node.name for node in body if isinstance(node, (ast.FunctionDef, ast.ClassDef))]
             for name in names.split():
                 self.assertEqual(defined.count(name), 1, (module, name))
+
+    def test_methods_stand_in_their_class(self):
+        for (module, name), methods in METHODS.items():
+            body = [node for node in self.trees[module + ".py"].body if getattr(node, "name", None) == name][0].body
+            defined = [node.name for node in body if isinstance(node, ast.FunctionDef)]
+            for method in ["__init__"] + methods.split():
+                self.assertEqual(defined.count(method), 1, (name, method))
+
+    def test_errors_are_right_below_the_base_class(self):
+        classes = {node.name: node for node in self.trees["errors.py"].body if isinstance(node, ast.ClassDef)}
+        for name, node in classes.items():
+            self.assertEqual([base.id for base in node.bases], ["ValueError" if name == "FamilyError" else "FamilyError"])
+
+    def test_only_builtins_and_methods_of_the_subset(self):
+        builtin = set("len range enumerate zip min max sum abs sorted reversed int str bool list tuple dict set isinstance "
+                      "ord repr any all super type".split())
+        methods = set("append clear copy count endswith extend find get index insert items join keys partition pop remove "
+                      "replace reverse setdefault split startswith strip update values isdigit".split())
+        own = {node.name for tree in self.trees.values() for node in ast.walk(tree) if isinstance(node, ast.FunctionDef)}
+        for name, tree in self.trees.items():
+            for node in ast.walk(tree):
+                if isinstance(node, ast.Name) and hasattr(builtins, node.id) and node.id != "_":
+                    known = builtin | {"ValueError"}
+                    self.assertIn(node.id, known, (name, node.lineno))
+                if isinstance(node, ast.Call) and isinstance(node.func, ast.Attribute):
+                    self.assertIn(node.func.attr, methods | own, (name, node.lineno))
+                if isinstance(node, ast.Call) and isinstance(node.func, ast.Name) and node.func.id == "type":
+                    self.assertEqual(len(node.args), 1)
 
     def test_imports_are_of_the_package_and_of_what_is_defined_there(self):
         for name, tree in self.trees.items():
