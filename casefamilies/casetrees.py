@@ -52,8 +52,8 @@ def first_place(view, ranks):
 
 def useful_place(view):
     """Return a place where the first clause has a maker, and as many others as can be."""
-    wanted = view.gaps[min(list(view.gaps))]
-    counts = [(-len([k for k, asked in view.gaps.items() if place in asked]), place) for place in wanted]
+    wanted = view.open_gaps[min(list(view.open_gaps))]
+    counts = [(-len([k for k, asked in view.open_gaps.items() if place in asked]), place) for place in wanted]
     return min(counts)[1]
 
 

@@ -1,7 +1,8 @@
 """A console for a workbook: lines with commands, and lists of texts as results (point 18.4)."""
 
 from casefamilies.counting import count_values
-from casefamilies.errors import BadText, FamilyError
+from casefamilies.errors import BadFunction, BadMaker, BadQuestion, BadText, Full, InUse, NothingToUndo, Taken
+from casefamilies.errors import Unknown
 from casefamilies.evaluation import run
 from casefamilies.lines import expression_at, finished, named_at, number_at, read_clause, read_function, read_maker
 from casefamilies.lines import skipped, type_at, word_at
@@ -25,13 +26,34 @@ class Console:
 
     def enter(self, line):
         """Do what a line says, and return the list of the texts of the result."""
-        command = COMMANDS.get(line.partition(" ")[0])
         try:
-            if command is None:
-                raise BadText("there is no such command")
-            return command(self.book, line)
-        except FamilyError as error:
-            return ["error " + type(error).__name__]
+            return done(self.book, line)
+        except BadText:
+            return ["error BadText"]
+        except Unknown:
+            return ["error Unknown"]
+        except BadMaker:
+            return ["error BadMaker"]
+        except BadFunction:
+            return ["error BadFunction"]
+        except BadQuestion:
+            return ["error BadQuestion"]
+        except InUse:
+            return ["error InUse"]
+        except Taken:
+            return ["error Taken"]
+        except Full:
+            return ["error Full"]
+        except NothingToUndo:
+            return ["error NothingToUndo"]
+
+
+def done(book, line):
+    """Do what a line says with a workbook, and return the list of the texts of the result."""
+    command = COMMANDS.get(line.partition(" ")[0])
+    if command is None:
+        raise BadText("there is no such command")
+    return command(book, line)
 
 
 def only_word(line, command):

@@ -77,7 +77,7 @@ def descent_paper(program):
             if is_bad(path):
                 return ("circle", walk_to(known, path))
             for n, link in steps:
-                if link.start == path[1] and link.behind(path) not in known:
+                if link.caller == path[1] and link.behind(path) not in known:
                     known[link.behind(path)] = (path, n)
                     longer.append(link.behind(path))
         waiting = longer
@@ -126,7 +126,7 @@ def are_closed(links, widths, value):
     if not all([path in paths for path in steps]):
         return False
     for path in paths:
-        following = [link.behind(path) for link in steps.values() if link.start == path[1]]
+        following = [link.behind(path) for link in steps.values() if link.caller == path[1]]
         if not all([longer in paths for longer in following]):
             return False
     return True
@@ -140,7 +140,7 @@ def is_circle(links, value):
         return False
     path = links[value[0]].path()
     for n in value[1:]:
-        if links[n].start != path[1]:
+        if links[n].caller != path[1]:
             return False
         path = links[n].behind(path)
     return is_bad(path)

@@ -9,18 +9,18 @@ class Link:
     """A call as the last step of a path. What it makes of a row is worked out once."""
 
     def __init__(self, call, many):
-        self.start = call[0]
-        self.goal = call[3]
+        self.caller = call[0]
+        self.called = call[3]
         self.rows = rows_from(call[4], many)
         self.known = {}
 
     def path(self):
         """Return the path of the call alone."""
-        return (self.start, self.goal, self.rows)
+        return (self.caller, self.called, self.rows)
 
     def behind(self, path):
         """Return a path with the call behind it."""
-        return (path[0], self.goal, tuple([self.row_behind(row) for row in path[2]]))
+        return (path[0], self.called, tuple([self.row_behind(row) for row in path[2]]))
 
     def row_behind(self, row):
         """Return the row that a row becomes."""

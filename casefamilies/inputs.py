@@ -20,19 +20,19 @@ class View:
     those of the inputs at the patterns that the clause matches.
     """
 
-    def __init__(self, rows, gaps, joined):
+    def __init__(self, rows, open_gaps, joined):
         self.rows = rows
-        self.gaps = gaps
+        self.open_gaps = open_gaps
         self.joined = joined
 
     def places(self):
         """Return the ascending list of the places at which a look is right."""
-        return sorted(set([place for asked in self.gaps.values() for place in asked]))
+        return sorted(set([place for asked in self.open_gaps.values() for place in asked]))
 
     def label(self):
         """Return a text that two views of a function share only if the same trees are right at both."""
         wanted = self.places()
-        told = [f"{k} {sorted(asked)}" for k, asked in self.gaps.items()]
+        told = [f"{k} {sorted(asked)}" for k, asked in self.open_gaps.items()]
         done = {}
         for place in wanted:
             if place not in done:
@@ -125,7 +125,7 @@ class Viewer:
         """Return the view of those inputs that have a maker at a place, of which the rows are given."""
         gaps = {}
         joined = {}
-        for k, asked in view.gaps.items():
+        for k, asked in view.open_gaps.items():
             if place not in asked:
                 narrower = self.opened(view.joined[k], place, maker)
                 if narrower is not None:
@@ -142,7 +142,7 @@ class Viewer:
     def takes_all(self, view, k):
         """Return True if a clause that is alive matches each input of a view."""
         rows = view.rows
-        waiting = list(view.gaps[k].items())
+        waiting = list(view.open_gaps[k].items())
         while waiting:
             place, pattern = waiting.pop()
             for maker in self.makers_for(rows, place):
@@ -154,9 +154,9 @@ class Viewer:
 
     def end_of(self, view):
         """Return the tree without a look that is right at a view, or None."""
-        if not view.gaps:
+        if not view.open_gaps:
             return ("miss",)
-        first = min(list(view.gaps))
+        first = min(list(view.open_gaps))
         return ("take", first) if self.takes_all(view, first) else None
 
 

@@ -15,14 +15,14 @@ class Guide:
         self.solver = Solver(signature)
         self.known = {}
 
-    def ways(self, goal):
+    def openings(self, goal):
         """Return the choices of a goal, each with the goal that it leaves."""
         name = write_goal(goal)
         if name not in self.known:
-            self.known[name] = self.found_ways(goal)
+            self.known[name] = self.found_openings(goal)
         return self.known[name]
 
-    def found_ways(self, goal):
+    def found_openings(self, goal):
         """Return the choices of a goal, each with the goal that it leaves; there are none without types."""
         words = makers_of(self.signature, goal[0][0]) if goal else []
         rows = [(word, after(self.signature, goal, word)) for word in words]
@@ -30,16 +30,16 @@ class Guide:
 
     def settled(self, goal):
         """Return the first goal, from one on, that has no choice or several."""
-        ways = self.ways(goal)
+        ways = self.openings(goal)
         while len(ways) == 1:
             goal = ways[0][1]
-            ways = self.ways(goal)
+            ways = self.openings(goal)
         return goal
 
 
 def choices(signature, goal):
     """Return the names of the makers that can come first in solutions of a goal, in the order of the signature."""
-    return [word for word, left in Guide(signature).ways(goal)]
+    return [word for word, left in Guide(signature).openings(goal)]
 
 
 def stored(signature, goal, values):
@@ -52,7 +52,7 @@ def stored(signature, goal, values):
     while waiting:
         value = waiting.pop()
         waiting.extend(value[:0:-1])
-        ways = guide.ways(goal)
+        ways = guide.openings(goal)
         k = [word for word, left in ways].index(value[0])
         if len(ways) > 1:
             digits.append(str(k))
@@ -67,7 +67,7 @@ def restored(signature, goal, text):
     place = 0
     left = goal
     while left:
-        ways = guide.ways(left)
+        ways = guide.openings(left)
         k = 0
         if len(ways) != 1:
             k = digit_at(text, place, len(ways))
@@ -93,7 +93,7 @@ def built(signature, words):
     values = []
     for word in words[::-1]:
         # What was built last stands furthest to the left.
-        parts = [values.pop() for _ in maker_of(signature, word)[3]]
+        parts = [values.pop() for argument in maker_of(signature, word)[3]]
         values.append((word, *parts))
     return tuple(values[::-1])
 
@@ -106,5 +106,5 @@ def texts_of(signature, goal, n):
     starts = [("", guide.settled(goal))]
     for _ in range(n):
         starts = [(text + str(k), guide.settled(way[1]))
-                  for text, left in starts for k, way in enumerate(guide.ways(left))]
+                  for text, left in starts for k, way in enumerate(guide.openings(left))]
     return sorted([text for text, left in starts if left == ()])

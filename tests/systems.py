@@ -2,7 +2,7 @@
 
 import random
 
-from drafts import P, makers_for, names_of, random_body, random_program, split_patterns
+from drafts import P, makers_for, names_of, random_body, random_pattern, random_program, split_patterns
 from samples import EMPTY, EXPR, NAMED, PARITY, V, lively_signature, replaced, variables_of
 
 FIRST = ("first",)
@@ -195,3 +195,24 @@ def expression_for(rng, program):
         calls += [] if None in values else [(word, *values)]
     found = [random_call(rng, program, 2)] + calls * 2
     return rng.choice([("none", "a")] + [expression for expression in found if expression is not None] * 4)
+
+
+# Families that share an index: which makers there are at one place tells which there can be at another.
+SHARED = ((("z", 0), ("s", 1), ("p", 2)), ("sel", "val"), (
+    ("low", "sel", ("z",), ()), ("high", "sel", ("s", 0), ()), ("wide", "sel", ("p", 0, 1), (("sel", 0), ("val", 1))),
+    ("same", "sel", ("p", 0, 1), (("sel", 1),)), ("any", "val", 0, ()), ("up", "val", ("s", 0), (("val", 0),)),
+    ("two", "val", ("p", 0, 1), (("val", 0), ("sel", 1))), ("down", "val", ("z",), (("val", ("s", 0)),))))
+
+
+def shared_program(seed):
+    """Return a program with one function, whose arguments have index variables in common."""
+    rng = random.Random(seed)
+    many = rng.randint(2, 3)
+    indices = [rng.choice([0, 0, 0, ("p", 0, 1), ("p", 0, 0), 1, ("s", 0), ("p", 1, 0)]) for _ in range(many)]
+    arguments = tidied_types([(rng.choice(["sel", "val"]), index) for index in indices])
+    clauses = []
+    for _ in range(rng.randint(2, 6)):
+        names = ["n" + letter for letter in "abcdefghijklmnopqrstuvwxyz"]
+        patterns = tuple(random_pattern(rng, SHARED, family, 2, 0.55, names) for family, index in arguments)
+        clauses.append((patterns, ("any",)))
+    return (SHARED, (("f", arguments, ("val", 0), tuple(clauses)),))

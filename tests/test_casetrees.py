@@ -13,7 +13,8 @@ from plain_trees import is_right_case_tree, plain_tree_by, trees_in
 from reference import values_up_to
 from samples import COUNTED, EMPTY, PARITY, V, bounded, same, vector
 from systems import (
-    CLOSED, KNOWN, LISTS, NAT, PLAIN, SUMS, TOGETHER, TURNS, VOID, ZERO, nat, program_of, some_program, split_program)
+    CLOSED, KNOWN, LISTS, NAT, PLAIN, SHARED, SUMS, TOGETHER, TURNS, VOID, ZERO, nat, program_of, shared_program,
+    some_program, split_program)
 from test_covers import inputs_up_to
 
 FIRST = ("first",)
@@ -128,6 +129,38 @@ class Trees(unittest.TestCase):
                     kinds[part[0]] = kinds.get(part[0], 0) + 1
         self.assertGreater(min(kinds.values()), 40)
         self.assertEqual(len(kinds), 4)
+
+    def test_the_same_clauses_with_other_indices(self):
+        # Behind low and high the same clauses are left, with the same makers: but low leaves no other value.
+        signature = SHARED[:2] + (SHARED[2][:2] + (("third", "sel", ("s", 0), ()),) + SHARED[2][4:6],)
+        program = program_of(signature, ("f", (("sel", 0), ("val", 0)), ("val", 0), (
+            ((("third",), ("up", "a")), "a"), (("b", ("any",)), ("any",)), (("b", "c"), "c"))))
+        self.assertTrue(is_program(program))
+        look = ("look", (1,), (("any", ("take", 1)), ("up", ("take", 2))))
+        third = ("look", (1,), (("any", ("take", 1)), ("up", ("take", 0))))
+        wanted = ("look", (0,), (("low", ("take", 1)), ("high", look), ("third", third)))
+        self.assertEqual(case_tree_by(program, "f", (0, 1)), wanted)
+        self.assertIs(check_tree(program, "f", wanted), True)
+        for low, high in [(look, look), (("take", 1), ("take", 1)), (look, ("take", 1))]:
+            wrong = ("look", (0,), (("low", low), ("high", high), ("third", third)))
+            self.assertIs(check_tree(program, "f", wrong), False)
+
+    def test_shared_indices_by_the_words(self):
+        kinds = {}
+        for seed in range(150):
+            program = shared_program(seed)
+            self.assertTrue(is_program(program))
+            orders = list(itertools.permutations(range(len(program[1][0][1]))))
+            wanted = plain_tree_by(program, "f", orders[seed % len(orders)])
+            if len(trees_in(wanted)) > 60:
+                continue
+            self.assertTrue(same(case_tree_by(program, "f", orders[seed % len(orders)]), wanted), program)
+            self.assertIs(check_tree(program, "f", wanted), True)
+            tree = case_tree(program, "f")
+            self.assertTrue(is_right_case_tree(program, "f", tree), (program, tree))
+            for part in trees_in(wanted):
+                kinds[part[0]] = kinds.get(part[0], 0) + 1
+        self.assertGreater(min(kinds.values()), 100)
 
     def test_trees_tell_what_covers_tell(self):
         for seed in range(96):

@@ -159,7 +159,8 @@ class Known(unittest.TestCase):
             ("maker new : abcdefghijklm(x0)", BAD), ("maker new : fin(abcdefghijklm)", BAD), ("maker", BAD),
             ("maker ", BAD), ("maker new", BAD), ("maker new : fin(x0) from fin(x0),fin(x0)", BAD),
             ("maker new : fin", BAD), ("makers new : fin(x0)", BAD), ("maker new : fin(x0)  from fin(x0)", BAD),
-            ("drop", BAD), ("drop ", BAD), ("drop  cons", BAD), ("drop cons ", BAD), ("drop Cons", BAD), ("drop a b", BAD),
+            ("drop", BAD), ("drop ", BAD), ("drop  cons", BAD), ("drop cons ", BAD), ("drop Cons", BAD),
+            ("drop a b", BAD),
             ("drop abcdefghijklm", BAD), ("drop cons()", BAD), ("drop abcdefghijkl", "error Unknown")])
         self.assertEqual(self.console.enter("show"), TEXT.split("\n"))
 
@@ -220,7 +221,8 @@ class Known(unittest.TestCase):
             ("ask e : fin(x1000000)", BAD), ("ask e : fin(x00)", BAD), ("ask e : fin(other)", BAD),
             ("ask e : fin(succ)", BAD), ("ask e : ", BAD), ("ask e :", BAD), ("ask e : none ", BAD), ("ask e", BAD),
             ("ask", BAD), ("ask E : none", BAD), ("ask abcdefghijklm : none", BAD), ("ask  e : none", BAD),
-            ("ask e: none", BAD), ("ask e :none", BAD), ("ask e : none, fin(x0)", BAD), ("ask e : fin(x0),fin(x0)", BAD),
+            ("ask e: none", BAD), ("ask e :none", BAD), ("ask e : none, fin(x0)", BAD),
+            ("ask e : fin(x0),fin(x0)", BAD),
             ("ask : none", BAD), ("forget", BAD), ("forget ", BAD), ("forget A", BAD), ("forget a ", BAD),
             ("forget other", "error Unknown"), ("state", BAD), ("state ", BAD), ("state Q", BAD), ("state q q", BAD),
             ("state other", "error Unknown"), ("state place", "error Unknown"), ("cover q", "error Unknown"),
@@ -228,7 +230,8 @@ class Known(unittest.TestCase):
             ("cover place", "covered")])
 
     def test_profiles(self):
-        self.check([("profile zero", "vec"), ("profile succ(succ(zero))", "fin vec"), ("profile x0", BAD), ("profile", BAD),
+        self.check([("profile zero", "vec"), ("profile succ(succ(zero))", "fin vec"), ("profile x0", BAD),
+                    ("profile", BAD),
                     ("profile succ(x0)", BAD), ("profile zero()", BAD), ("profile succ", BAD), ("profile other", BAD),
                     ("profile ", BAD), ("profile zero ", BAD), ("profile zero zero", BAD), ("profile  zero", BAD),
                     ("profile succ(zero", BAD), ("profile succ(zero,zero)", BAD), ("profile fin(zero)", BAD)])
@@ -237,8 +240,10 @@ class Known(unittest.TestCase):
 
     def test_counts(self):
         self.check([("count vec(succ(zero)) 4", "1"), ("count fin(x0) 6", "1"), ("count fin(x0) 0", "0"),
-                    ("count vec(x5) 6", "3"), ("count fin(zero) 1", "0"), ("count fin(x0) 7", BAD), ("count fin(x0) 06", BAD),
-                    ("count fin(x0) 00", BAD), ("count fin(x0) -1", BAD), ("count fin(x0)", BAD), ("count fin(x0) ", BAD),
+                    ("count vec(x5) 6", "3"), ("count fin(zero) 1", "0"), ("count fin(x0) 7", BAD),
+                    ("count fin(x0) 06", BAD),
+                    ("count fin(x0) 00", BAD), ("count fin(x0) -1", BAD), ("count fin(x0)", BAD),
+                    ("count fin(x0) ", BAD),
                     ("count fin(x0)  3", BAD), ("count fin(x0) 3 ", BAD), ("count none 3", BAD), ("count", BAD),
                     ("count fin(x0), fin(x0) 3", BAD), ("count other(x0) 3", BAD), ("count fin(other) 3", BAD),
                     ("count fin(x0) a", BAD), ("count fin(x0) 1000000000", BAD), ("count fin(x0) " + "9" * 5000, BAD),
@@ -253,7 +258,8 @@ class Known(unittest.TestCase):
             ("run place(" + two + ") 0", "more"), ("run place(nil()) 0", "stuck place(nil())"),
             ("run more(place(nil())) 60", "stuck place(nil())"), ("run " + two + " 60", "value " + two + " 0"),
             ("run place(cons(place(nil()),nil())) 9", "stuck place(nil())"), ("run nil() 60", "value nil() 0"),
-            ("run nil() 61", BAD), ("run nil() 060", BAD), ("run nil() 01", BAD), ("run nil()", BAD), ("run nil() ", BAD),
+            ("run nil() 61", BAD), ("run nil() 060", BAD), ("run nil() 01", BAD), ("run nil()", BAD),
+            ("run nil() ", BAD),
             ("run nil 1", BAD), ("run xs 1", BAD), ("run place(xs) 1", BAD), ("run place() 1", BAD),
             ("run place(first()) 1", BAD), ("run place(nil(),nil()) 1", BAD), ("run other() 1", BAD),
             ("run cons(nil(),nil()) 1", BAD), ("run more(place(first())) 1", BAD), ("run zero() 1", BAD), ("run", BAD),
@@ -266,15 +272,18 @@ class Known(unittest.TestCase):
                      "value cons(first(),cons(more(more(first())),nil())) 0")])
 
     def test_words_alone(self):
-        self.check([("sound", "yes"), ("sound ", BAD), ("sounds", BAD), ("sound x", BAD), ("show ", BAD), ("show place", BAD),
-                    ("undo", "error NothingToUndo"), ("undo ", BAD), ("undo x", BAD), ("", BAD), (" ", BAD), ("other", BAD),
+        self.check([("sound", "yes"), ("sound ", BAD), ("sounds", BAD), ("sound x", BAD), ("show ", BAD),
+                    ("show place", BAD),
+                    ("undo", "error NothingToUndo"), ("undo ", BAD), ("undo x", BAD), ("", BAD), (" ", BAD),
+                    ("other", BAD),
                     ("index new 0", BAD), ("family new", BAD), ("index zero 0", BAD), ("Sound", BAD), (" sound", BAD),
                     ("help", BAD), ("enter", BAD), ("program", BAD), ("kept", BAD), ("\u00e9", BAD), ("sound\t", BAD)])
         self.assertEqual(self.console.enter("show"), TEXT.split("\n"))
 
     def test_undo(self):
         self.check([("ask q : none", "ok"), ("maker wild : fin(x0)", "ok"), ("remove place", "ok"), ("undo", "ok"),
-                    ("cover place", "covered"), ("forget q", "ok"), ("undo", "ok"), ("state q", "full"), ("drop x", "error Unknown"),
+                    ("cover place", "covered"), ("forget q", "ok"), ("undo", "ok"), ("state q", "full"),
+                    ("drop x", "error Unknown"),
                     ("undo", "ok"), ("drop wild", "error Unknown"), ("undo", "ok"), ("state q", "error Unknown"),
                     ("undo", "error NothingToUndo")])
 
@@ -309,7 +318,8 @@ class Chains(unittest.TestCase):
         return rng.choice([
             rng.choice(lines), rng.choice(lines), rng.choice(lines), "drop " + rng.choice(makers),
             "remove " + rng.choice(words), "undo", "show", "sound", "ask " + rng.choice("pq") + " : " + goal_text(goal),
-            "ask " + rng.choice("rst") + " : " + goal_text(goal), "forget " + rng.choice("pqr"), "state " + rng.choice("pqrst"),
+            "ask " + rng.choice("rst") + " : " + goal_text(goal), "forget " + rng.choice("pqr"),
+            "state " + rng.choice("pqrst"),
             "cover " + rng.choice(words), "profile " + one.partition("(")[2][:-1], f"count {one} {rng.randint(0, 4)}",
             "profile " + rng.choice(signature[0])[0], "run " + expression_text(expression) + f" {rng.randint(0, 5)}",
             "function f : " + one + " to " + one, "clause " + rng.choice(words) + " : a = a",
@@ -317,7 +327,8 @@ class Chains(unittest.TestCase):
 
     def test_by_the_words(self):
         kinds = {}
-        programs = KNOWN + [STRANGE] + [some_program(seed) for seed in range(30)] + [split_program(n) for n in range(20)]
+        programs = KNOWN + [STRANGE] + [some_program(seed) for seed in range(30)]
+        programs += [split_program(seed) for seed in range(20)]
         for seed, program in enumerate(programs):
             rng = random.Random(seed)
             console, plain = Console(program), PlainConsole(program)
@@ -325,13 +336,14 @@ class Chains(unittest.TestCase):
             for _ in range(60):
                 line = self.line(rng, plain.book.program(), lines)
                 if rng.random() < 0.3:
-                    line = rng.choice([text for text in changed_texts(line, "abnx(),: 012", rng, 1) if "\n" not in text])
+                    others = changed_texts(line, "abnx(),: 012", rng, 1)
+                    line = rng.choice([text for text in others if "\n" not in text])
                 wanted = plain.enter(line)
                 self.assertTrue(same(console.enter(line), wanted), (program, line, wanted))
                 kind = (line.partition(" ")[0], wanted[0].partition(" ")[2] if wanted[0][:5] == "error" else "right")
                 kinds[kind] = kinds.get(kind, 0) + 1
-        commands = ["maker", "drop", "function", "clause", "remove", "ask", "forget", "state", "cover", "profile", "count",
-                    "run", "sound", "show", "undo"]
+        commands = ["maker", "drop", "function", "clause", "remove", "ask", "forget", "state", "cover", "profile",
+                    "count", "run", "sound", "show", "undo"]
         for command in commands:
             self.assertIn((command, "right"), kinds)
         for kind in [("maker", "BadMaker"), ("drop", "InUse"), ("drop", "Unknown"), ("function", "BadFunction"),

@@ -52,6 +52,14 @@ class Calls(unittest.TestCase):
             ("f", 0, (), "f", ((0, 0, 1), (1, 1, 0))), ("f", 1, (), "f", ()), ("f", 1, (1,), "f", ((0, 1, 0),
                                                                                                  (1, 0, 0)))])
 
+    def test_variables_with_the_names_of_makers(self):
+        # A variable is a part of a pattern, the name of a maker is none.
+        program = program_of(PLAIN, ("f", (NAT, NAT), NAT, (
+            ((("s", "o"), "s"), ("f", "s", "o")), ((("s", ("s", "o")), "s"), ("f", "s", ZERO)))))
+        self.assertTrue(is_program(program))
+        self.assertEqual(calls_of(program), [
+            ("f", 0, (), "f", ((0, 1, 1), (1, 0, 0))), ("f", 1, (), "f", ((1, 0, 0),))])
+
     def test_by_the_words(self):
         many = 0
         for program in samples():
@@ -246,6 +254,25 @@ class Checks(unittest.TestCase):
                       ("place", "place", ((0, 0, 1.0),)), ("place", ("place",), ((0, 0, 1),)), None, (), "place"]:
             self.assertIs(check_descent(P, ("falls", (graph,))), False, graph)
             self.assertIs(check_descent(P, ("falls", PAPER[1] + (graph,))), False, graph)
+
+    def test_graphs_that_no_call_asks_for(self):
+        # Without calls each graph may stand there that is no bad one; only its form is asked.
+        program = program_of(PLAIN, ("f", (NAT, NAT), NAT, ()), ("g", (NAT,), NAT, ()))
+        for f, g, edges, wanted in [
+                ("f", "f", ((0, 0, 1), (0, 1, 0)), True), ("f", "f", ((0, 0, 1), (1, 1, 0)), True),
+                ("f", "f", ((0, 1, 0),), True), ("f", "g", ((0, 0, 0), (1, 0, 0)), True), ("g", "f", (), True),
+                ("g", "f", ((0, 0, 0), (0, 1, 1)), True), ("g", "g", ((0, 0, 1),), True), ("f", "g", (), True),
+                ("f", "f", ((0, 0, 1), (0, 1, -1)), False), ("f", "f", ((0, 0, 1), (0, 1, 2)), False),
+                ("f", "f", ((-1, 0, 1), (0, 0, 1)), False), ("f", "f", ((0, -1, 1), (0, 0, 1)), False),
+                ("f", "f", ((0, 0, 1), (2, 0, 1)), False), ("f", "f", ((0, 0, 1), (0, 2, 1)), False),
+                ("f", "g", ((0, 0, 0), (0, 0, 1)), False), ("f", "g", ((0, 0, 1), (0, 0, 1)), False),
+                ("f", "g", ((1, 0, 0), (0, 0, 0)), False), ("f", "g", ((0, 1, 0),), False),
+                ("g", "f", ((1, 0, 0),), False),
+                ("f", "g", ((0, 0, True),), False), ("f", "g", ((0, False, 0),), False), ("f", "g", [(0, 0, 0)], False),
+                ("f", "f", (), False), ("g", "g", ((0, 0, 0),), False), ("f", "h", (), False), ("h", "f", (), False)]:
+            paper = ("falls", ((f, g, edges),))
+            self.assertIs(is_right_descent(program, paper), wanted, paper)
+            self.assertIs(check_descent(program, paper), wanted, paper)
 
     def test_values_of_no_form(self):
         for value in ODDITIES + [("falls",), PAPER + ((),), list(PAPER), PAPER[1], ("Falls", PAPER[1]),

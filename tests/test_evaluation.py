@@ -13,7 +13,8 @@ from plain_runs import next_call, plain_result, plain_run, plain_step, tidy
 from reference import values_up_to
 from samples import EXPR, ODDITIES, V, agreeable_mutants, bounded, nodes_of, number, same, vector
 from systems import (
-    ACKERMANN, ENTRY, KNOWN, LISTS, LOOP, SUMS, VOID, ZERO, falling_program, light_value, nat, nats, program_of, random_call,
+    ACKERMANN, ENTRY, KNOWN, LISTS, LOOP, SUMS, VOID, ZERO, falling_program, light_value, nat, nats, program_of,
+    random_call,
     some_program)
 
 FIRST = ("first",)

@@ -113,14 +113,16 @@ class Form(unittest.TestCase):
     def test_errors_are_right_below_the_base_class(self):
         classes = {node.name: node for node in self.trees["errors.py"].body if isinstance(node, ast.ClassDef)}
         for name, node in classes.items():
-            self.assertEqual([base.id for base in node.bases], ["ValueError" if name == "FamilyError" else "FamilyError"])
+            wanted = "ValueError" if name == "FamilyError" else "FamilyError"
+            self.assertEqual([base.id for base in node.bases], [wanted])
 
     def test_only_builtins_and_methods_of_the_subset(self):
-        builtin = set("len range enumerate zip min max sum abs sorted reversed int str bool list tuple dict set isinstance "
-                      "ord repr any all super type".split())
-        methods = set("append clear copy count endswith extend find get index insert items join keys partition pop remove "
-                      "replace reverse setdefault split startswith strip update values isdigit".split())
-        own = {node.name for tree in self.trees.values() for node in ast.walk(tree) if isinstance(node, ast.FunctionDef)}
+        builtin = set("len range enumerate zip min max sum abs sorted reversed int str bool list tuple dict set "
+                      "isinstance ord repr any all super type".split())
+        methods = set("append clear copy count endswith extend find get index insert items join keys partition pop "
+                      "remove replace reverse setdefault split startswith strip update values isdigit".split())
+        nodes = [node for tree in self.trees.values() for node in ast.walk(tree)]
+        own = {node.name for node in nodes if isinstance(node, ast.FunctionDef)}
         for name, tree in self.trees.items():
             for node in ast.walk(tree):
                 if isinstance(node, ast.Name) and hasattr(builtins, node.id) and node.id != "_":

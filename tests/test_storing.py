@@ -288,7 +288,8 @@ class Texts(unittest.TestCase):
             self.assertEqual(restored(V, goal, text), mutant)
 
     def test_goals_of_several_families(self):
-        for signature, goal in [(FORMS, (("both", 0), ("left", ("node", 0, 1)))), (COUNTED, (("great", 0), ("two", 0)))]:
+        for signature, goal in [(FORMS, (("both", 0), ("left", ("node", 0, 1)))),
+                                (COUNTED, (("great", 0), ("two", 0)))]:
             for n in range(4):
                 for text in texts_of(signature, goal, n):
                     self.assertTrue(plainly_solves(signature, goal, restored(signature, goal, text)))

@@ -28,7 +28,8 @@ ODD = ((("x", 0), ("none", 1), ("xx", 2)), ("none", "x", "to"), (
     ("x", "none", ("x",), ()), ("none", "x", ("none", 0), (("none", 0), ("x", ("xx", 0, 1)))),
     ("from", "to", 0, (("to", ("none", ("x",))),))))
 STRANGE = (ODD, (("to", (("none", ("x",)), ("x", 0)), ("none", ("xx", 0, 1)), (
-    (("x", "none"), "x"), ((("x",), ("none", "x", "to")), ("to", ("x",), "to")))), ("index", (("to", 0),), ("to", 0), ())))
+    (("x", "none"), "x"), ((("x",), ("none", "x", "to")), ("to", ("x",), "to")))),
+    ("index", (("to", 0),), ("to", 0), ())))
 
 
 def changed_texts(text, signs, rng, many):
@@ -38,7 +39,8 @@ def changed_texts(text, signs, rng, many):
         k = rng.randrange(len(text) + 1)
         sign = rng.choice(signs)
         found += [text[:k] + sign + text[k:], text[:k] + text[k + 1:], text[:k] + sign + text[k + 1:],
-                  text[:k] + text[k:k + 1] * 2 + text[k + 1:], text[:k] + text[k + 1:k + 2] + text[k:k + 1] + text[k + 2:]]
+                  text[:k] + text[k:k + 1] * 2 + text[k + 1:],
+                  text[:k] + text[k + 1:k + 2] + text[k:k + 1] + text[k + 2:]]
     return found + [text + " ", " " + text, text + "\n", "\n" + text, text + ",", text.upper(), text + text]
 
 
@@ -102,8 +104,10 @@ class Expressions(unittest.TestCase):
         self.assertEqual(read_expression("f(" + "f()," * 20 + "f())"), ("f",) + (("f",),) * 21)
 
     def test_texts_of_no_expression(self):
-        for text in ["", " ", "(", ")", "()", ",", "a,b", "a ", " a", "a()b", "a(", "a)", "a(b", "a(b,)", "a(,b)", "a(,)",
-                     "a(b c)", "a(b, c)", "a(b)(c)", "a((b))", "(a)", "A", "a1", "x0", "a(x0)", "abcdefghijklm", "a(b))",
+        for text in ["", " ", "(", ")", "()", ",", "a,b", "a ", " a", "a()b", "a(", "a)", "a(b", "a(b,)", "a(,b)",
+                     "a(,)",
+                     "a(b c)", "a(b, c)", "a(b)(c)", "a((b))", "(a)", "A", "a1", "x0", "a(x0)", "abcdefghijklm",
+                     "a(b))",
                      "a( )", "a(b())c", "a\n", "\na", "a(b\n)", "a()()", "a-b", "a_b", "a.b", "\u00e9", "a(\u00e9)",
                      "abcdefghijklm()", "f(abcdefghijklm)", "a(b;c)", "a[b]", "a(b,,c)", "a()\t", "0", "a(0)"]:
             with self.assertRaises(BadText):
@@ -118,7 +122,8 @@ class Expressions(unittest.TestCase):
             read_expression(text[:-1])
         long = "f(" + ",".join(["abc(d)"] * 14000) + ")"
         self.assertEqual(write_expression(read_expression(long)), long)
-        for bad in ["a" * 100000, "a," * 50000, "f(" + "a," * 49999, "f(" + "a" * 99000 + ")", " " * 100000, "()" * 50000]:
+        for bad in ["a" * 100000, "a," * 50000, "f(" + "a," * 49999, "f(" + "a" * 99000 + ")", " " * 100000,
+                    "()" * 50000]:
             with self.assertRaises(BadText):
                 read_expression(bad)
 
@@ -189,7 +194,8 @@ class Programs(unittest.TestCase):
         for old, new in [(" : ", ":"), (" : ", " :  "), (" from ", " from  "), (" from ", "from "), (", ", ","),
                          (", ", ",  "), (" to ", "  to "), (" = ", "="), (" = ", " == "), ("fin(succ(x0))", "fin"),
                          ("fin(x0)", "none"), ("clause place", "clause other"), ("maker first", "maker nil"),
-                         ("x0", "x00"), ("x0", "x1"), ("x1", "x0000001"), ("first()", "first"), ("index succ 1", "index succ 2"),
+                         ("x0", "x00"), ("x0", "x1"), ("x1", "x0000001"), ("first()", "first"),
+                         ("index succ 1", "index succ 2"),
                          ("family vec", "family vecs"), ("maker", "makers"), ("(a,", "(a, ")]:
             for count in (1, -1):
                 if TEXT.replace(old, new, count) != TEXT:
@@ -215,7 +221,8 @@ class Programs(unittest.TestCase):
     def test_limits(self):
         many = "\n".join("index " + letter + " 0" for letter in "abcde") + "\nfamily f"
         self.assertEqual(len(read_program(many)[0][0]), 5)
-        for text in [many.replace("index a 0", "index a 0\nindex g 0"), many + "\nfamily g\nfamily h\nfamily i\nfamily j",
+        for text in [many.replace("index a 0", "index a 0\nindex g 0"),
+                     many + "\nfamily g\nfamily h\nfamily i\nfamily j",
                      many + "\nfamily abcdefghijklm", many + "".join("\nmaker m" + c + " : f(x0)" for c in "abcdefghi"),
                      many + "".join("\nfunction m" + c + " : f(x0) to f(x0)" for c in "abcde"),
                      many + "\nfunction m : f(x0) to f(x0)" + "\nclause m : a = a" * 7,
@@ -225,7 +232,8 @@ class Programs(unittest.TestCase):
                 read_program(text)
 
     def test_long_texts_end_soon(self):
-        for text in ["index a 0\n" * 9000, "family f\n" * 9000, TEXT + "\nclause place : cons(a,nil()) = first()" * 2000,
+        for text in ["index a 0\n" * 9000, "family f\n" * 9000,
+                     TEXT + "\nclause place : cons(a,nil()) = first()" * 2000,
                      "maker m : f(x0)\n" * 5000, "function f : f(x0) to f(x0)\nclause f : a = a\n" * 2000,
                      "maker " + "m" * 99000, "clause f : " + "a, " * 30000 + "a = a", "\n" * 99999, "clause" * 15000]:
             with self.assertRaises(BadText):

@@ -7,8 +7,8 @@ from casefamilies.casetrees import case_tree, case_tree_by, run_tree
 from casefamilies.treechecks import check_tree
 from drafts import P
 from plain_trees import is_right_case_tree, trees_in
-from samples import ODDITIES, V, agreeable_mutants, structure_mutants
-from systems import KNOWN, PLAIN, SUMS, VOID, ZERO, program_of, some_program, split_program
+from samples import ODDITIES, agreeable_mutants, structure_mutants
+from systems import KNOWN, PLAIN, SUMS, VOID, program_of, some_program, split_program
 from test_casetrees import CROSS, S, TREE, plain
 
 ONE, TWO, MISS, NEVER = ("take", 0), ("take", 1), ("miss",), ("never",)
@@ -44,7 +44,9 @@ class Checks(unittest.TestCase):
                  ("look", (0,), TREE[2] * 2), ("look", (0,), (("cons", inner, ()),)), ("look", (0,), (("cons",),)),
                  ("look", (0,), (inner,)), ("look", (0,), [("cons", inner)]), ("look", (0,), (["cons", inner],)),
                  ("look", (0,), {"cons": inner}), ("look", (0,)), ("look", TREE[2], (0,)), TREE + ((),),
-                 ("look", (0,), TREE[2][0]), ("look", (0,), inner), ("look", (0,), None), ("look",), (), TREE[1:],
+                 ("look", (0,), TREE[2][0]), ("look", (0,), inner), ("look", (0,), None), ("look",), (),
+                 ("look", (0,), 0), ("look", (0,), ""), ("look", (0,), "cons"), ("look", 0, TREE[2]),
+                 ("look", "", TREE[2]), TREE[1:],
                  ("look", (0,), (("none", inner),)), ("Look",) + TREE[1:], ("split",) + TREE[1:], [*TREE],
                  ("look", (0,), ((("cons",), inner),)), ("look", (0,), ((0, inner),)), ("take",), ("take", 0, 0)]
         for tree in wrong:
@@ -55,7 +57,8 @@ class Checks(unittest.TestCase):
 
         right = (("nil", ONE), ("cons", TWO))
         self.assertIs(check_tree(P, "place", with_inner(("look", (0, 1), right))), True)
-        for branches in [right[::-1], right[:1], right[1:], (("nil", TWO), ("cons", ONE)), (("nil", ONE), ("cons", ONE)),
+        for branches in [right[::-1], right[:1], right[1:], (("nil", TWO), ("cons", ONE)),
+                         (("nil", ONE), ("cons", ONE)),
                          (("nil", MISS), ("cons", TWO)), (("nil", NEVER), ("cons", TWO)), right + right[1:],
                          (("nil", ("take", False)), ("cons", TWO)), (("nil", ONE), ("cons", ("take", True))),
                          (("nil", ("take", -2)), ("cons", TWO)), (("nil", ("take", 2)), ("cons", TWO)),
@@ -95,7 +98,8 @@ class Checks(unittest.TestCase):
             self.assertIs(check_tree(P, "place", value), False, repr(value))
             self.assertIs(check_tree(VOID, "lost", value), False, repr(value))
         for tree in [TREE, case_tree(SUMS, "plus"), case_tree(CROSS, "f")]:
-            program, word = (P, "place") if tree == TREE else (SUMS, "plus") if len(tree[2][0][1]) == 2 else (CROSS, "f")
+            program, word = (P, "place") if tree == TREE else (SUMS, "plus") if len(tree[2][0][1]) == 2 else (CROSS,
+                                                                                         "f")
             self.assertIs(check_tree(program, word, tree), True)
             for mutant in agreeable_mutants(tree):
                 self.assertIs(check_tree(program, word, mutant), False)

@@ -149,10 +149,12 @@ class Functions(unittest.TestCase):
     def test_values_that_are_no_functions(self):
         book = Workbook(P)
         before = papers(book)
-        for function in ODDITIES + [("place",), ("place", 0), PLACE[:3], PLACE + ((),), list(PLACE), ("cons",) + PLACE[1:],
+        for function in ODDITIES + [("place",), ("place", 0), PLACE[:3], PLACE + ((),), list(PLACE),
+                                    ("cons",) + PLACE[1:],
                                     PLACE[:3] + ((PLACE[3][0],) * 7,), ("new", (), ("fin", 0), ()), (PLACE,), P,
                                     (["place"],) + PLACE[1:], PLACE[:2] + (("vec", 0), PLACE[3]), PLACE[:1],
-                                    ("new", (("fin", 0),), ("fin", 0), ((("a",), ("none", "a")),)), ("New",) + PLACE[1:],
+                                    ("new", (("fin", 0),), ("fin", 0), ((("a",), ("none", "a")),)),
+                                    ("New",) + PLACE[1:],
                                     (("place",),) + PLACE[1:], ("place",) + PLACE[1:3] + ([],), (0,) + PLACE[1:]]:
             with self.assertRaises(BadFunction):
                 book.set_function(function)
@@ -226,7 +228,8 @@ class Questions(unittest.TestCase):
             if not is_plain_word(word):
                 with self.assertRaises(BadQuestion):
                     book.ask(word, VEC)
-        for goal in ODDITIES + [(("vec", ("none",)),), (("none", 0),), VEC[0], list(VEC), (["vec", 0],), (("vec", True),),
+        for goal in ODDITIES + [(("vec", ("none",)),), (("none", 0),), VEC[0], list(VEC), (["vec", 0],),
+                                (("vec", True),),
                                 (("vec", -1),), (("vec",),), (("vec", 0, 0),), "none", (("vec", ("succ",)),)]:
             if goal != ():
                 with self.assertRaises(BadQuestion):
