@@ -136,7 +136,10 @@ def shifted(term, n):
 
 def tidied(terms):
     """Return terms with their variables renamed to 0, 1, 2, .. from the left."""
-    names = {old: new for new, old in enumerate(variables_in(terms))}
+    found = variables_in(terms)
+    if found == list(range(len(found))):
+        return tuple(terms)
+    names = {old: new for new, old in enumerate(found)}
     return tuple([substituted(term, names) for term in terms])
 
 
